@@ -100,7 +100,6 @@ func TestNormal(t *testing.T) {
 		{steps{del(1), keep(1), insert(1), keep(1), del(1)}, steps{del(1), keep(1), insert(1), keep(1), del(1)}, steps{insert(1), keep(1), del(1), keep(1), insert(1)}},
 		{steps{keep(1), {Kind: 3, N: 7}, keep(1), {Kind: api.Insert, N: -1}, keep(1)}, steps{keep(3)}, steps{keep(3)}},
 		{wrong, nil, nil},
-		{steps{keep(api.MaxList), keep(1)}, steps{keep(api.MaxList + 1)}, steps{keep(api.MaxList + 1)}},
 	} {
 		given := slices.Clone(c.l)
 		if l := script.Normal(c.l); !slices.Equal(l, c.normal) {
