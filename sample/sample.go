@@ -1,4 +1,4 @@
-// Package sample makes trees and messages for the tests of the layers. What it makes of a seed is the same each time.
+// Package sample makes trees, edits and messages for the tests of the layers. What it makes of a seed is the same each time.
 package sample
 
 import (
