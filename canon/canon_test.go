@@ -2,7 +2,6 @@ package canon_test
 
 import (
 	"math"
-	"reflect"
 	"slices"
 	"strings"
 	"testing"
@@ -20,6 +19,10 @@ func parse(t *testing.T, s string) api.Tree {
 		t.Fatalf("%s is no tree's text", s)
 	}
 	return x
+}
+
+func nothing(t api.Tree) bool {
+	return t.Kind == api.Null && len(t.Words)+len(t.Kids) == 0
 }
 
 var most = api.Limits{Depth: api.MaxDepth, Weight: api.MaxWeight}
@@ -186,7 +189,7 @@ func TestDecodeRefuses(t *testing.T) {
 		{"a frame that is too great", []uint64{0x0000001700000001, 0x0000000200000004, 1, 0}, most, api.ErrForm},
 		{"a far pointer", []uint64{0x000000000000000a, 0x0000000100000000, 5}, most, api.ErrForm},
 	} {
-		if x, err := canon.Decode(c.l, c.x); err != c.want || !reflect.DeepEqual(x, api.Tree{}) {
+		if x, err := canon.Decode(c.l, c.x); err != c.want || !nothing(x) {
 			t.Errorf("%s: %s, %d, not %d", c.name, text.Print(x), err, c.want)
 		}
 	}
