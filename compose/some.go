@@ -2,6 +2,9 @@ package compose
 
 import "cento/api"
 
+// lastAt is the greatest number of a word, or a kid, that is edited.
+const lastAt = api.MaxWords - 2
+
 // Some tells a tree on which a right edit is defined.
 func Some(e api.Edit) api.Tree {
 	switch e.Kind {
@@ -18,13 +21,13 @@ func Some(e api.Edit) api.Tree {
 func someStruct(e api.Edit) api.Tree {
 	t := api.Tree{Kind: api.Struct}
 	for _, w := range e.Words {
-		for len(t.Words) < w.At {
+		for len(t.Words) < min(w.At, lastAt) {
 			t.Words = append(t.Words, 0)
 		}
 		t.Words = append(t.Words, w.Old)
 	}
 	for _, k := range e.Kids {
-		for len(t.Kids) < k.At {
+		for len(t.Kids) < min(k.At, lastAt) {
 			t.Kids = append(t.Kids, api.Tree{})
 		}
 		t.Kids = append(t.Kids, Some(k.E))
@@ -37,7 +40,7 @@ func someList(e api.Edit) api.Tree {
 	for _, o := range e.Ops {
 		switch o.Kind {
 		case api.Keep:
-			for range o.N {
+			for range min(o.N, api.MaxList) {
 				t.Kids = append(t.Kids, blank(e.List))
 			}
 		case api.Delete:
