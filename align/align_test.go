@@ -11,7 +11,9 @@ import (
 	"cento/tree"
 )
 
-func keep(n int) api.Op         { return api.Op{Kind: api.Keep, N: n} }
+// Short forms of what the tests are written with.
+var keep = sample.Keep
+
 func del(l ...uint64) api.Op    { return api.Op{Kind: api.Delete, L: atoms(l)} }
 func insert(l ...uint64) api.Op { return api.Op{Kind: api.Insert, L: atoms(l)} }
 

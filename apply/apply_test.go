@@ -10,33 +10,12 @@ import (
 	"cento/tree"
 )
 
-func tr(t *testing.T, s string) api.Tree {
-	t.Helper()
-	x, err := text.Parse(s)
-	if err != api.OK {
-		t.Fatalf("%s is no tree's text", s)
-	}
-	return x
-}
-
-func replace(t *testing.T, old, now string) api.Edit {
-	t.Helper()
-	return api.Edit{Kind: api.Replace, Old: tr(t, old), New: tr(t, now)}
-}
-
-func list(kind int, ops ...api.Op) api.Edit {
-	return api.Edit{Kind: api.ListEdit, List: kind, Ops: ops}
-}
-
-func keep(n int) api.Op           { return api.Op{Kind: api.Keep, N: n} }
-func del(l ...api.Tree) api.Op    { return api.Op{Kind: api.Delete, L: l} }
-func insert(l ...api.Tree) api.Op { return api.Op{Kind: api.Insert, L: l} }
-func descend(e api.Edit) api.Op   { return api.Op{Kind: api.Descend, E: e} }
-
-func words(l ...api.WordEdit) api.Edit { return api.Edit{Kind: api.StructEdit, Words: l} }
-func kids(l ...api.KidEdit) api.Edit   { return api.Edit{Kind: api.StructEdit, Kids: l} }
-
-func atom(n uint64) api.Tree { return api.Tree{Kind: api.Atom, Words: []uint64{n}} }
+// Short forms of what the tests are written with.
+var (
+	tr, replace, list, keep     = sample.TreeOf, sample.Replace, sample.Ops, sample.Keep
+	del, insert, descend, words = sample.Delete, sample.Insert, sample.Descend, sample.Words
+	kids, atom                  = sample.Kids, sample.Number
+)
 
 // 21.1
 func TestEdit(t *testing.T) {
@@ -53,11 +32,11 @@ func TestEdit(t *testing.T) {
 	}{
 		{name: "Same", t: "{1,0|y[5],_}", want: "{1|y[5]}"},
 		{name: "Same of nothing", t: "_", want: "_"},
-		{name: "Replace", e: replace(t, "{1,0}", "y[5]"), t: "{1|_}", want: "y[5]"},
-		{name: "Replace tells a Norm", e: replace(t, "_", "{1,0|_}"), t: "_", want: "{1}"},
-		{name: "Replace of something else", e: replace(t, "{1}", "y[5]"), t: "{2}", isNot: true},
-		{name: "Replace of nothing, by itself", e: replace(t, "_", "_"), t: "_", want: "_"},
-		{name: "Replace of nothing, on something", e: replace(t, "_", "_"), t: "{}", isNot: true},
+		{name: "Replace", e: replace("{1,0}", "y[5]"), t: "{1|_}", want: "y[5]"},
+		{name: "Replace tells a Norm", e: replace("_", "{1,0|_}"), t: "_", want: "{1}"},
+		{name: "Replace of something else", e: replace("{1}", "y[5]"), t: "{2}", isNot: true},
+		{name: "Replace of nothing, by itself", e: replace("_", "_"), t: "_", want: "_"},
+		{name: "Replace of nothing, on something", e: replace("_", "_"), t: "{}", isNot: true},
 
 		{name: "a word", e: w, t: "{5}", want: "{6}"},
 		{name: "another word", e: w, t: "{7}", isNot: true},
@@ -76,10 +55,10 @@ func TestEdit(t *testing.T) {
 
 		{name: "a kid", e: kids(api.KidEdit{At: 1, E: w}), t: "{|_,{5}}", want: "{|_,{6}}"},
 		{name: "another kid", e: kids(api.KidEdit{At: 1, E: w}), t: "{|{5},_}", isNot: true},
-		{name: "a kid that is not there", e: kids(api.KidEdit{At: 2, E: replace(t, "_", "{1}")}), t: "{}", want: "{|_,_,{1}}"},
+		{name: "a kid that is not there", e: kids(api.KidEdit{At: 2, E: replace("_", "{1}")}), t: "{}", want: "{|_,_,{1}}"},
 		{name: "a kid that is not there is none", e: kids(api.KidEdit{At: 2, E: w}), t: "{}", isNot: true},
-		{name: "a kid goes", e: kids(api.KidEdit{At: 1, E: replace(t, "{1}", "_")}), t: "{|y[],{1}}", want: "{|y[]}"},
-		{name: "the last kid, by itself", e: kids(api.KidEdit{At: 65534, E: replace(t, "_", "_")}), t: "{}", want: "{}"},
+		{name: "a kid goes", e: kids(api.KidEdit{At: 1, E: replace("{1}", "_")}), t: "{|y[],{1}}", want: "{|y[]}"},
+		{name: "the last kid, by itself", e: kids(api.KidEdit{At: 65534, E: replace("_", "_")}), t: "{}", want: "{}"},
 
 		{name: "steps", e: list(api.Byte, keep(2), del(atom(5)), insert(atom(6), atom(7))), t: "y[1,2,5]", want: "y[1,2,6,7]"},
 		{name: "too few kids", e: list(api.Byte, keep(2)), t: "y[1]", isNot: true},
@@ -91,16 +70,16 @@ func TestEdit(t *testing.T) {
 		{name: "Delete in order", e: list(api.Byte, del(atom(1), atom(2))), t: "y[1,2]", want: "y[]"},
 		{name: "Delete out of order", e: list(api.Byte, del(atom(2), atom(1))), t: "y[1,2]", isNot: true},
 		{name: "Delete of too many", e: list(api.Byte, del(atom(1), atom(2))), t: "y[1]", isNot: true},
-		{name: "Delete of what means the same", e: list(api.Pointers, del(tr(t, "{1,0}"), tr(t, "_"))), t: "p[{1|_},_]", want: "p[]"},
-		{name: "Delete of something else", e: list(api.Pointers, del(tr(t, "{}"))), t: "p[_]", isNot: true},
+		{name: "Delete of what means the same", e: list(api.Pointers, del(tr("{1,0}"), tr("_"))), t: "p[{1|_},_]", want: "p[]"},
+		{name: "Delete of something else", e: list(api.Pointers, del(tr("{}"))), t: "p[_]", isNot: true},
 		{name: "Insert ahead and behind", e: list(api.Void, insert(atom(0)), keep(1), insert(atom(0))), t: "v[0]", want: "v[0,0,0]"},
 		{name: "Descend", e: list(api.Composite, keep(1), descend(w)), t: "c[{5},{5,1}]", want: "c[{5},{6,1}]"},
 		{name: "Descend where it is not defined", e: list(api.Composite, descend(w), keep(1)), t: "c[{4},{5}]", isNot: true},
 		{name: "Descend behind the end", e: list(api.Composite, keep(1), descend(w)), t: "c[{5}]", isNot: true},
-		{name: "Descend into nothing", e: list(api.Pointers, descend(replace(t, "_", "y[1]"))), t: "p[_]", want: "p[y[1]]"},
-		{name: "kids' Norms", e: list(api.Pointers, keep(1), insert(tr(t, "{0}"))), t: "p[{1,0}]", want: "p[{1},{}]"},
+		{name: "Descend into nothing", e: list(api.Pointers, descend(replace("_", "y[1]"))), t: "p[_]", want: "p[y[1]]"},
+		{name: "kids' Norms", e: list(api.Pointers, keep(1), insert(tr("{0}"))), t: "p[{1,0}]", want: "p[{1},{}]"},
 	} {
-		got, ok := apply.Edit(c.e, tr(t, c.t))
+		got, ok := apply.Edit(c.e, tr(c.t))
 		if ok == c.isNot || ok && text.Print(got) != c.want || !ok && (got.Kind != 0 || len(got.Words)+len(got.Kids) > 0) {
 			t.Errorf("%s: %s, %v, not %s, %v", c.name, text.Print(got), ok, c.want, !c.isNot)
 		}

@@ -9,19 +9,14 @@ import (
 	"cento/build"
 	"cento/canon"
 	"cento/reader"
+	"cento/sample"
 	"cento/text"
 	"cento/tree"
 	"cento/unfold"
 )
 
-func parse(t *testing.T, s string) api.Tree {
-	t.Helper()
-	x, err := text.Parse(s)
-	if err != api.OK {
-		t.Fatalf("%s is no tree's text", s)
-	}
-	return x
-}
+// Short forms of what the tests are written with.
+var parse = sample.TreeOf
 
 func equal(a, b [][]uint64) bool {
 	return slices.EqualFunc(a, b, func(x, y []uint64) bool { return slices.Equal(x, y) })
@@ -58,7 +53,7 @@ func TestLayout(t *testing.T) {
 		{"{|{5|{6,7}}}", 3, 99, l{{0x0001000000000000, 0x0000000100000012}, {5, 0x0000000200000012, 0x00010001fffffff4}, {6, 7, 0x00000002fffffff4}}},
 		{"c[{1},{2}]", 2, 99, l{{0x0000000200000006}, {0x0000000100000008, 1, 2}, {0x0000000100000002, 0x0000001700000001}}},
 	} {
-		a, ok := build.Build(parse(t, c.s), c.size, c.most)
+		a, ok := build.Build(parse(c.s), c.size, c.most)
 		if !ok || !equal(a.Segments(), c.want) {
 			t.Errorf("%s, size %d: %x, %v", c.s, c.size, a.Segments(), ok)
 		}
@@ -68,7 +63,7 @@ func TestLayout(t *testing.T) {
 // 13.2
 func TestItMeansTheTree(t *testing.T) {
 	for _, s := range trees {
-		x := tree.Norm(parse(t, s))
+		x := tree.Norm(parse(s))
 		words, ok := canon.Encode(x, api.MaxOut)
 		if !ok {
 			t.Fatalf("%s has no words", s)
@@ -96,7 +91,7 @@ func TestItMeansTheTree(t *testing.T) {
 // 13.1
 func TestWhatIsLeft(t *testing.T) {
 	for _, s := range trees {
-		x := parse(t, s)
+		x := parse(s)
 		for _, size := range []int{1, 2, 3, 5, 1000} {
 			a, ok := build.Build(x, size, api.MaxOut)
 			if !ok {
@@ -116,7 +111,7 @@ func TestWhatIsLeft(t *testing.T) {
 
 // 13.1: it is an arena of which words are given still.
 func TestItIsAnArena(t *testing.T) {
-	a, ok := build.Build(parse(t, "{5}"), 3, 5)
+	a, ok := build.Build(parse("{5}"), 3, 5)
 	if !ok || a.Left() != 3 {
 		t.Fatalf("%d left, %v", a.Left(), ok)
 	}

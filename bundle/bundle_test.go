@@ -18,25 +18,14 @@ import (
 	"cento/tree"
 )
 
-func tr(t *testing.T, s string) api.Tree {
-	t.Helper()
-	x, err := text.Parse(s)
-	if err != api.OK {
-		t.Fatalf("%s is no tree's text", s)
-	}
-	return x
-}
+// Short forms of what the tests are written with.
+var tr = sample.TreeOf
 
 // of tells the bundle of a tree's text, and edits' texts.
-func of(t *testing.T, first string, log ...string) bundle.Bundle {
-	t.Helper()
-	b := bundle.Bundle{First: tr(t, first)}
+func of(first string, log ...string) bundle.Bundle {
+	b := bundle.Bundle{First: tr(first)}
 	for _, s := range log {
-		e, err := etext.Parse(s)
-		if err != api.OK {
-			t.Fatalf("%s is no edit's text", s)
-		}
-		b.Log = append(b.Log, e)
+		b.Log = append(b.Log, sample.EditOf(s))
 	}
 	return b
 }
@@ -50,24 +39,15 @@ func shown(b bundle.Bundle) string {
 	return s
 }
 
-// deep tells n structs within one another.
-func deep(n int) api.Tree {
-	x := api.Tree{Kind: api.Struct}
-	for range n - 1 {
-		x = api.Tree{Kind: api.Struct, Kids: []api.Tree{x}}
-	}
-	return x
-}
-
 // 44.1
 func TestAtAndRight(t *testing.T) {
-	b := of(t, "{1,0|_}", "s{0:1:1:2|}", "=", "({2}>y[1])")
+	b := of("{1,0|_}", "s{0:1:1:2|}", "=", "({2}>y[1])")
 	for n, want := range []string{"{1}", "{2}", "{2}", "y[1]"} {
 		if x, ok := b.At(n); !ok || text.Print(x) != want {
 			t.Errorf("At(%d): %s, %v, not %s", n, text.Print(x), ok, want)
 		}
 	}
-	if !b.Right() || !of(t, "_").Right() {
+	if !b.Right() || !of("_").Right() {
 		t.Error("it may not be")
 	}
 	for _, n := range []int{-1, 4, math.MaxInt, math.MinInt} {
@@ -75,7 +55,7 @@ func TestAtAndRight(t *testing.T) {
 			t.Errorf("At(%d): %s", n, text.Print(x))
 		}
 	}
-	grow := api.Edit{Kind: api.StructEdit, Kids: []api.KidEdit{{At: 0, E: api.Edit{Kind: api.Replace, New: deep(64)}}}}
+	grow := api.Edit{Kind: api.StructEdit, Kids: []api.KidEdit{{At: 0, E: api.Edit{Kind: api.Replace, New: sample.Nested(64)}}}}
 	for _, c := range []struct {
 		name string
 		b    bundle.Bundle
@@ -83,10 +63,10 @@ func TestAtAndRight(t *testing.T) {
 	}{
 		{"an atom", bundle.Bundle{First: api.Tree{Kind: api.Atom, Words: []uint64{1}}}, -1},
 		{"a tree that is not right", bundle.Bundle{First: api.Tree{Words: []uint64{1}}}, -1},
-		{"an edit that is not right", bundle.Bundle{First: tr(t, "{1}"), Log: []api.Edit{{}, {Kind: 4}}}, 1},
-		{"an edit that is not right, but would do", bundle.Bundle{First: tr(t, "{1}"), Log: []api.Edit{{List: 4}}}, 0},
-		{"an edit that is not defined", of(t, "{1}", "s{0:1:1:2|}", "s{0:1:1:2|}"), 1},
-		{"what becomes is not right", bundle.Bundle{First: tr(t, "{1}"), Log: []api.Edit{grow}}, 0},
+		{"an edit that is not right", bundle.Bundle{First: tr("{1}"), Log: []api.Edit{{}, {Kind: 4}}}, 1},
+		{"an edit that is not right, but would do", bundle.Bundle{First: tr("{1}"), Log: []api.Edit{{List: 4}}}, 0},
+		{"an edit that is not defined", of("{1}", "s{0:1:1:2|}", "s{0:1:1:2|}"), 1},
+		{"what becomes is not right", bundle.Bundle{First: tr("{1}"), Log: []api.Edit{grow}}, 0},
 	} {
 		if c.b.Right() {
 			t.Errorf("%s: it may be", c.name)
@@ -101,7 +81,7 @@ func TestAtAndRight(t *testing.T) {
 
 // 44.1
 func TestBetween(t *testing.T) {
-	b := of(t, "{1,1}", "s{0:1:1:2|}", "s{1:1:1:3|}", "s{0:1:2:4|}")
+	b := of("{1,1}", "s{0:1:1:2|}", "s{1:1:1:3|}", "s{0:1:2:4|}")
 	for _, c := range []struct {
 		from, to int
 		want     string
@@ -118,7 +98,7 @@ func TestBetween(t *testing.T) {
 		}
 	}
 	// Edits that are never defined one behind the other are not made one, either way.
-	b = of(t, "{1}", "s{0:1:1:2|}", "s{0:1:1:2|}")
+	b = of("{1}", "s{0:1:1:2|}", "s{0:1:1:2|}")
 	for _, c := range [][2]int{{0, 2}, {2, 0}} {
 		if e, ok := b.Between(c[0], c[1]); ok || !edit.Equal(e, api.Edit{}) {
 			t.Errorf("Between(%d, %d): %s", c[0], c[1], etext.Print(e))
@@ -135,21 +115,21 @@ func TestTreeAndRead(t *testing.T) {
 		b          bundle.Bundle
 		tree, read string
 	}{
-		{of(t, "_"), "{|_,p[]}", "_"},
-		{of(t, "{1,0}"), "{|{1,0},p[]}", "{1,0}"},
-		{of(t, "{1}", "="), "{1|{1},p[_]}", "{1} ="},
-		{of(t, "{1}", "s{0:1:1:2|}", "({2,0}>_)"), "{2|{1},p[{2|c[{100000000,1,2}]},{1|{2}}]}", "{1} s{0:1:1:2|} ({2}>_)"},
-		{of(t, "y[1]", "ly[+y[2],-y[1]]"), "{1|y[1],p[{403|c[{1|y[1]},{2|y[2]}]}]}", "y[1] ly[-y[1],+y[2]]"},
+		{of("_"), "{|_,p[]}", "_"},
+		{of("{1,0}"), "{|{1,0},p[]}", "{1,0}"},
+		{of("{1}", "="), "{1|{1},p[_]}", "{1} ="},
+		{of("{1}", "s{0:1:1:2|}", "({2,0}>_)"), "{2|{1},p[{2|c[{100000000,1,2}]},{1|{2}}]}", "{1} s{0:1:1:2|} ({2}>_)"},
+		{of("y[1]", "ly[+y[2],-y[1]]"), "{1|y[1],p[{403|c[{1|y[1]},{2|y[2]}]}]}", "y[1] ly[-y[1],+y[2]]"},
 	} {
-		if got := bundle.Tree(c.b); !tree.Right(got) || !tree.Equal(got, tr(t, c.tree)) {
+		if got := bundle.Tree(c.b); !tree.Right(got) || !tree.Equal(got, tr(c.tree)) {
 			t.Errorf("%s has the tree %s, not %s", shown(c.b), text.Print(got), c.tree)
 		}
-		if b, ok := bundle.Read(tr(t, c.tree)); !ok || shown(b) != c.read {
+		if b, ok := bundle.Read(tr(c.tree)); !ok || shown(b) != c.read {
 			t.Errorf("%s is read as %s, %v, not %s", c.tree, shown(b), ok, c.read)
 		}
 	}
 	// Trees of edits are Norms, then; the first one is as it stands.
-	if b, ok := bundle.Read(tr(t, "{1,0|{1,0|_},p[{1|{1,0},{0|_}}],_}")); !ok || shown(b) != "{1,0|_} ({1}>{})" {
+	if b, ok := bundle.Read(tr("{1,0|{1,0|_},p[{1|{1,0},{0|_}}],_}")); !ok || shown(b) != "{1,0|_} ({1}>{})" {
 		t.Errorf("%s, %v", shown(b), ok)
 	}
 }
@@ -163,7 +143,7 @@ func TestReadRefuses(t *testing.T) {
 		// Not as it is written.
 		"{1|y[1],p[{403|c[{2|y[2]},{1|y[1]}]}]}", "{1|y[1,2],p[{403|c[{100},{100}]}]}", "{1|c[{}],p[{903|c[{3|{2}}]}]}",
 	} {
-		if b, ok := bundle.Read(tr(t, s)); ok || shown(b) != "_" {
+		if b, ok := bundle.Read(tr(s)); ok || shown(b) != "_" {
 			t.Errorf("%s is read as %s", s, shown(b))
 		}
 	}
@@ -171,8 +151,8 @@ func TestReadRefuses(t *testing.T) {
 
 // 44.3
 func TestEncodeAndDecode(t *testing.T) {
-	b := of(t, "{1}", "s{0:1:1:2|}")
-	want, _ := canon.Encode(tr(t, "{1|{1},p[{2|c[{100000000,1,2}]}]}"), api.MaxOut)
+	b := of("{1}", "s{0:1:1:2|}")
+	want, _ := canon.Encode(tr("{1|{1},p[{2|c[{100000000,1,2}]}]}"), api.MaxOut)
 	for _, most := range []int{len(want), len(want) + 1, math.MaxInt} {
 		if l, ok := bundle.Encode(b, most); !ok || !slices.Equal(l, want) {
 			t.Errorf("at most %d: %x, %v", most, l, ok)
@@ -192,13 +172,13 @@ func TestEncodeAndDecode(t *testing.T) {
 		b    bundle.Bundle
 		want bool
 	}{
-		{"what may not be", of(t, "{1}", "s{0:1:2:1|}"), false},
+		{"what may not be", of("{1}", "s{0:1:2:1|}"), false},
 		{"an atom", bundle.Bundle{First: api.Tree{Kind: api.Atom, Words: []uint64{1}}}, false},
-		{"64 deep", bundle.Bundle{First: deep(63)}, true},
-		{"65 deep", bundle.Bundle{First: deep(64)}, false},
+		{"64 deep", bundle.Bundle{First: sample.Nested(63)}, true},
+		{"65 deep", bundle.Bundle{First: sample.Nested(64)}, false},
 		// The struct 4 (its word is 0), the pointers 1, and the list 1.
-		{"65536 in all", of(t, voids(65536-5)), true},
-		{"65537 in all", of(t, voids(65536-4)), false},
+		{"65536 in all", of(voids(65536 - 5)), true},
+		{"65537 in all", of(voids(65536 - 4)), false},
 	} {
 		l, ok := bundle.Encode(c.b, api.MaxOut)
 		if ok != c.want || !ok && len(l) != 0 {
@@ -213,7 +193,7 @@ func TestEncodeAndDecode(t *testing.T) {
 // 44.3
 func TestDecodeRefuses(t *testing.T) {
 	tree := func(s string) []uint64 {
-		l, ok := canon.Encode(tr(t, s), api.MaxOut)
+		l, ok := canon.Encode(tr(s), api.MaxOut)
 		if !ok {
 			t.Fatalf("%s has no words", s)
 		}

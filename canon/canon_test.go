@@ -8,22 +8,13 @@ import (
 
 	"cento/api"
 	"cento/canon"
+	"cento/sample"
 	"cento/text"
 	"cento/tree"
 )
 
-func parse(t *testing.T, s string) api.Tree {
-	t.Helper()
-	x, err := text.Parse(s)
-	if err != api.OK {
-		t.Fatalf("%s is no tree's text", s)
-	}
-	return x
-}
-
-func nothing(t api.Tree) bool {
-	return t.Kind == api.Null && len(t.Words)+len(t.Kids) == 0
-}
+// Short forms of what the tests are written with.
+var parse = sample.TreeOf
 
 var most = api.Limits{Depth: api.MaxDepth, Weight: api.MaxWeight}
 
@@ -56,7 +47,7 @@ var words = map[string][]uint64{
 // 12.1, 12.2
 func TestEncodeAndDecode(t *testing.T) {
 	for s, want := range words {
-		x := parse(t, s)
+		x := parse(s)
 		l, ok := canon.Encode(x, len(want))
 		if !ok || !slices.Equal(l, want) {
 			t.Errorf("%s: %x, %v", s, l, ok)
@@ -83,9 +74,9 @@ func TestTreesThatMeanTheSame(t *testing.T) {
 		{"{1|{2}}", "{1|{2,0},_}"},
 		{"p[{},_]", "p[{0},_]"},
 	} {
-		want, _ := canon.Encode(parse(t, c[0]), api.MaxOut)
+		want, _ := canon.Encode(parse(c[0]), api.MaxOut)
 		for _, s := range c {
-			l, ok := canon.Encode(parse(t, s), api.MaxOut)
+			l, ok := canon.Encode(parse(s), api.MaxOut)
 			if !ok || !slices.Equal(l, want) {
 				t.Errorf("%s: %x, %v, not %x", s, l, ok, want)
 			}
@@ -189,7 +180,7 @@ func TestDecodeRefuses(t *testing.T) {
 		{"a frame that is too great", []uint64{0x0000001700000001, 0x0000000200000004, 1, 0}, most, api.ErrForm},
 		{"a far pointer", []uint64{0x000000000000000a, 0x0000000100000000, 5}, most, api.ErrForm},
 	} {
-		if x, err := canon.Decode(c.l, c.x); err != c.want || !nothing(x) {
+		if x, err := canon.Decode(c.l, c.x); err != c.want || !sample.Nothing(x) {
 			t.Errorf("%s: %s, %d, not %d", c.name, text.Print(x), err, c.want)
 		}
 	}
@@ -203,7 +194,7 @@ func TestDeepAndHeavy(t *testing.T) {
 		"p[" + strings.Repeat("_,", 65534) + "_]",
 		"c[" + strings.Repeat("{},", 65534) + "{}]",
 	} {
-		l, ok := canon.Encode(parse(t, s), api.MaxOut)
+		l, ok := canon.Encode(parse(s), api.MaxOut)
 		if !ok {
 			t.Fatalf("%.20s: no words", s)
 		}

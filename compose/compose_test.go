@@ -14,38 +14,12 @@ import (
 	"cento/tree"
 )
 
-func tr(t *testing.T, s string) api.Tree {
-	t.Helper()
-	x, err := text.Parse(s)
-	if err != api.OK {
-		t.Fatalf("%s is no tree's text", s)
-	}
-	return x
-}
-
-func replace(t *testing.T, old, now string) api.Edit {
-	t.Helper()
-	return api.Edit{Kind: api.Replace, Old: tr(t, old), New: tr(t, now)}
-}
-
-func list(kind int, ops ...api.Op) api.Edit {
-	return api.Edit{Kind: api.ListEdit, List: kind, Ops: ops}
-}
-
-func keep(n int) api.Op           { return api.Op{Kind: api.Keep, N: n} }
-func del(l ...api.Tree) api.Op    { return api.Op{Kind: api.Delete, L: l} }
-func insert(l ...api.Tree) api.Op { return api.Op{Kind: api.Insert, L: l} }
-func descend(e api.Edit) api.Op   { return api.Op{Kind: api.Descend, E: e} }
-
-func words(l ...api.WordEdit) api.Edit { return api.Edit{Kind: api.StructEdit, Words: l} }
-func kids(l ...api.KidEdit) api.Edit   { return api.Edit{Kind: api.StructEdit, Kids: l} }
-
-// word tells an edit of the lowest byte of the word 0.
-func word(old, now uint64) api.Edit {
-	return words(api.WordEdit{Mask: 1, Old: old, New: now})
-}
-
-func atom(n uint64) api.Tree { return api.Tree{Kind: api.Atom, Words: []uint64{n}} }
+// Short forms of what the tests are written with.
+var (
+	tr, replace, list, keep     = sample.TreeOf, sample.Replace, sample.Ops, sample.Keep
+	del, insert, descend, words = sample.Delete, sample.Insert, sample.Descend, sample.Words
+	kids, word, atom            = sample.Kids, sample.Byte, sample.Number
+)
 
 // 25.2
 func TestWord(t *testing.T) {
@@ -78,15 +52,15 @@ func TestEdit(t *testing.T) {
 	}{
 		{name: "Same and Same"},
 		{name: "Same first, as it is written", q: list(api.Byte, insert(one), del(two)), want: list(api.Byte, del(two), insert(one))},
-		{name: "Same second, as it is written", p: replace(t, "{1,0}", "_"), want: replace(t, "{1}", "_")},
-		{name: "Replace and a StructEdit", p: replace(t, "y[5]", "{1}"), q: word(1, 2), want: replace(t, "y[5]", "{2}")},
-		{name: "Replace and what is not defined", p: replace(t, "y[5]", "{1}"), q: word(2, 3), isNot: true},
-		{name: "Replace and Replace", p: replace(t, "_", "{1}"), q: replace(t, "{1,0}", "_"), want: replace(t, "_", "_")},
-		{name: "Replace and Replace of something else", p: replace(t, "_", "{1}"), q: replace(t, "{2}", "_"), isNot: true},
-		{name: "a StructEdit and Replace", p: word(1, 2), q: replace(t, "{2,3}", "_"), want: replace(t, "{1,3}", "_")},
-		{name: "a StructEdit and Replace of something else", p: word(1, 2), q: replace(t, "{1}", "_"), isNot: true},
-		{name: "a ListEdit and Replace", p: list(api.Byte, insert(one), keep(1)), q: replace(t, "y[1,2]", "_"), want: replace(t, "y[2]", "_")},
-		{name: "a ListEdit and Replace of something else", p: list(api.Byte, insert(one), keep(1)), q: replace(t, "y[1]", "_"), isNot: true},
+		{name: "Same second, as it is written", p: replace("{1,0}", "_"), want: replace("{1}", "_")},
+		{name: "Replace and a StructEdit", p: replace("y[5]", "{1}"), q: word(1, 2), want: replace("y[5]", "{2}")},
+		{name: "Replace and what is not defined", p: replace("y[5]", "{1}"), q: word(2, 3), isNot: true},
+		{name: "Replace and Replace", p: replace("_", "{1}"), q: replace("{1,0}", "_"), want: replace("_", "_")},
+		{name: "Replace and Replace of something else", p: replace("_", "{1}"), q: replace("{2}", "_"), isNot: true},
+		{name: "a StructEdit and Replace", p: word(1, 2), q: replace("{2,3}", "_"), want: replace("{1,3}", "_")},
+		{name: "a StructEdit and Replace of something else", p: word(1, 2), q: replace("{1}", "_"), isNot: true},
+		{name: "a ListEdit and Replace", p: list(api.Byte, insert(one), keep(1)), q: replace("y[1,2]", "_"), want: replace("y[2]", "_")},
+		{name: "a ListEdit and Replace of something else", p: list(api.Byte, insert(one), keep(1)), q: replace("y[1]", "_"), isNot: true},
 		{name: "a StructEdit and a ListEdit", p: words(), q: list(api.Byte), isNot: true},
 		{name: "a ListEdit and a StructEdit", p: list(api.Composite), q: words(), isNot: true},
 		{name: "two lists", p: list(api.Byte), q: list(api.Two), isNot: true},
@@ -95,7 +69,7 @@ func TestEdit(t *testing.T) {
 		{name: "a word of both", p: word(1, 2), q: word(2, 3), want: word(1, 3)},
 		{name: "a word back", p: word(1, 2), q: word(2, 1), want: word(1, 1)},
 		{name: "a word of both, apart", p: word(1, 2), q: word(1, 3), isNot: true},
-		{name: "kids", p: kids(at(0, word(1, 2)), at(2, words())), q: kids(at(0, replace(t, "{2}", "_")), at(1, words())), want: kids(at(0, replace(t, "{1}", "_")), at(1, words()), at(2, words()))},
+		{name: "kids", p: kids(at(0, word(1, 2)), at(2, words())), q: kids(at(0, replace("{2}", "_")), at(1, words())), want: kids(at(0, replace("{1}", "_")), at(1, words()), at(2, words()))},
 		{name: "a kid of both, apart", p: kids(at(0, word(1, 2))), q: kids(at(0, word(1, 2))), isNot: true},
 
 		{name: "Insert and Delete", p: list(api.Byte, insert(one), keep(1)), q: list(api.Byte, del(one), keep(1)), want: list(api.Byte, keep(1))},
@@ -107,10 +81,10 @@ func TestEdit(t *testing.T) {
 		{name: "Delete and Delete", p: list(api.Byte, del(one), keep(1)), q: list(api.Byte, del(two)), want: list(api.Byte, del(one, two))},
 		{name: "too few kids", p: list(api.Byte, keep(2)), q: list(api.Byte, keep(1)), isNot: true},
 		{name: "too many kids", p: list(api.Byte, del(one)), q: list(api.Byte, keep(1)), isNot: true},
-		{name: "Insert and Descend", p: list(api.Pointers, insert(tr(t, "{1}"))), q: list(api.Pointers, descend(word(1, 2))), want: list(api.Pointers, insert(tr(t, "{2}")))},
-		{name: "Insert and Descend into something else", p: list(api.Pointers, insert(tr(t, "{2}"))), q: list(api.Pointers, descend(word(1, 2))), isNot: true},
-		{name: "Descend and Delete", p: list(api.Composite, descend(word(1, 2))), q: list(api.Composite, del(tr(t, "{2,7}"))), want: list(api.Composite, del(tr(t, "{1,7}")))},
-		{name: "Descend and Delete of something else", p: list(api.Composite, descend(word(1, 2))), q: list(api.Composite, del(tr(t, "{1}"))), isNot: true},
+		{name: "Insert and Descend", p: list(api.Pointers, insert(tr("{1}"))), q: list(api.Pointers, descend(word(1, 2))), want: list(api.Pointers, insert(tr("{2}")))},
+		{name: "Insert and Descend into something else", p: list(api.Pointers, insert(tr("{2}"))), q: list(api.Pointers, descend(word(1, 2))), isNot: true},
+		{name: "Descend and Delete", p: list(api.Composite, descend(word(1, 2))), q: list(api.Composite, del(tr("{2,7}"))), want: list(api.Composite, del(tr("{1,7}")))},
+		{name: "Descend and Delete of something else", p: list(api.Composite, descend(word(1, 2))), q: list(api.Composite, del(tr("{1}"))), isNot: true},
 		{name: "Descend and Descend", p: list(api.Composite, descend(word(1, 2))), q: list(api.Composite, descend(word(2, 3))), want: list(api.Composite, descend(word(1, 3)))},
 		{name: "Descend and Descend, apart", p: list(api.Composite, descend(word(1, 2))), q: list(api.Composite, descend(word(3, 4))), isNot: true},
 		{name: "Descend and Keep", p: list(api.Composite, descend(word(1, 2)), keep(1)), q: list(api.Composite, keep(2)), want: list(api.Composite, descend(word(1, 2)), keep(1))},
@@ -131,17 +105,17 @@ func TestSome(t *testing.T) {
 		want string
 	}{
 		{api.Edit{}, "_"},
-		{replace(t, "{1,0}", "y[5]"), "{1}"},
+		{replace("{1,0}", "y[5]"), "{1}"},
 		{words(), "{}"},
 		{words(api.WordEdit{At: 1, Mask: 1, Old: 5, New: 6}, api.WordEdit{At: 3, Mask: 2, Old: 0x700}), "{0,5,0,700}"},
-		{kids(api.KidEdit{At: 1, E: words()}, api.KidEdit{At: 3, E: replace(t, "y[1]", "_")}), "{|_,{},_,y[1]}"},
+		{kids(api.KidEdit{At: 1, E: words()}, api.KidEdit{At: 3, E: replace("y[1]", "_")}), "{|_,{},_,y[1]}"},
 		{list(api.Byte, keep(2), del(atom(5), atom(6)), insert(atom(7)), keep(1)), "y[0,0,5,6,0]"},
 		{list(api.Void), "v[]"},
-		{list(api.Pointers, keep(1), descend(words(api.WordEdit{Mask: 1, Old: 5})), del(tr(t, "y[1]"))), "p[_,{5},y[1]]"},
+		{list(api.Pointers, keep(1), descend(words(api.WordEdit{Mask: 1, Old: 5})), del(tr("y[1]"))), "p[_,{5},y[1]]"},
 		{list(api.Composite, keep(2), descend(words(api.WordEdit{Mask: 1, Old: 5}))), "c[{},{},{5}]"},
 	} {
 		got := compose.Some(c.e)
-		if !tree.Right(got) || !tree.Equal(got, tr(t, c.want)) {
+		if !tree.Right(got) || !tree.Equal(got, tr(c.want)) {
 			t.Errorf("Some of %+v: %s, not %s", c.e, text.Print(got), c.want)
 		}
 	}

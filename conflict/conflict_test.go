@@ -12,19 +12,12 @@ import (
 	"cento/tree"
 )
 
-func tr(t *testing.T, s string) api.Tree {
-	t.Helper()
-	x, err := text.Parse(s)
-	if err != api.OK {
-		t.Fatalf("%s is no tree's text", s)
-	}
-	return x
-}
+// Short forms of what the tests are written with.
+var tr = sample.TreeOf
 
 // of tells a conflict of three texts.
-func of(t *testing.T, base, ours, theirs string, path ...api.Step) api.Conflict {
-	t.Helper()
-	return api.Conflict{Path: path, Base: tr(t, base), Ours: tr(t, ours), Theirs: tr(t, theirs)}
+func of(base, ours, theirs string, path ...api.Step) api.Conflict {
+	return api.Conflict{Path: path, Base: tr(base), Ours: tr(ours), Theirs: tr(theirs)}
 }
 
 // equal tells whether conflicts are the same, their trees as they stand.
@@ -35,31 +28,31 @@ func equal(a, b []api.Conflict) bool {
 }
 
 // some are conflicts, and what their tree means.
-func some(t *testing.T) map[string][]api.Conflict {
+func some() map[string][]api.Conflict {
 	return map[string][]api.Conflict{
 		"c[]":                                    nil,
-		"c[{|e[1],{1},{2},{3}}]":                 {of(t, "{1}", "{2}", "{3}", api.Step{Kind: api.Word})},
-		"c[{|e[]}]":                              {of(t, "_", "_", "_")},
-		"c[{|e[],{1,0},y[]},{|e[4,a],_,_,p[_]}]": {of(t, "{1,0}", "y[]", "_"), of(t, "_", "_", "p[_]", api.Step{Kind: api.Kid, At: 1}, api.Step{Kind: api.Gap, At: 2})},
-		"c[{|e[400000],_,_,{}}]":                 {of(t, "_", "_", "{}", api.Step{Kind: api.Kid, At: api.MaxList})},
+		"c[{|e[1],{1},{2},{3}}]":                 {of("{1}", "{2}", "{3}", api.Step{Kind: api.Word})},
+		"c[{|e[]}]":                              {of("_", "_", "_")},
+		"c[{|e[],{1,0},y[]},{|e[4,a],_,_,p[_]}]": {of("{1,0}", "y[]", "_"), of("_", "_", "p[_]", api.Step{Kind: api.Kid, At: 1}, api.Step{Kind: api.Gap, At: 2})},
+		"c[{|e[400000],_,_,{}}]":                 {of("_", "_", "{}", api.Step{Kind: api.Kid, At: api.MaxList})},
 	}
 }
 
 // 33.1, 33.3
 func TestTreeAndRead(t *testing.T) {
-	for s, l := range some(t) {
+	for s, l := range some() {
 		got := conflict.Tree(l)
-		if !tree.Right(got) || !tree.Equal(got, tr(t, s)) {
+		if !tree.Right(got) || !tree.Equal(got, tr(s)) {
 			t.Errorf("%s: the tree is %s", s, text.Print(got))
 		}
-		if back, ok := conflict.Read(tr(t, s)); !ok || !equal(back, l) {
+		if back, ok := conflict.Read(tr(s)); !ok || !equal(back, l) {
 			t.Errorf("%s is read as %+v, %v", s, back, ok)
 		}
 		if back, ok := conflict.Read(got); !ok || !equal(back, l) {
 			t.Errorf("%s is read again as %+v, %v", s, back, ok)
 		}
 	}
-	if l, ok := conflict.Read(tr(t, "c[{0|e[],{5,0|_},_,_,_}]")); !ok || len(l) != 1 || text.Print(l[0].Base) != "{5,0|_}" {
+	if l, ok := conflict.Read(tr("c[{0|e[],{5,0|_},_,_,_}]")); !ok || len(l) != 1 || text.Print(l[0].Base) != "{5,0|_}" {
 		t.Errorf("trees do not stand as they did: %+v, %v", l, ok)
 	}
 }
@@ -69,7 +62,7 @@ func TestReadRefuses(t *testing.T) {
 	for _, s := range []string{
 		"_", "{}", "p[]", "y[]", "e[]", "p[{|e[]}]", "c[{}]", "c[{1|e[]}]", "c[{|_,{1}}]", "c[{|{},{1}}]", "c[{|y[]}]", "c[{|e[3]}]", "c[{|e[400004]}]", "c[{|e[]},{}]", "c[{|e[],_,_,_,{}}]", "{|{|e[]}}",
 	} {
-		if l, ok := conflict.Read(tr(t, s)); ok || len(l) != 0 {
+		if l, ok := conflict.Read(tr(s)); ok || len(l) != 0 {
 			t.Errorf("%s is read as %+v", s, l)
 		}
 	}
@@ -77,8 +70,8 @@ func TestReadRefuses(t *testing.T) {
 
 // 33.2
 func TestTurned(t *testing.T) {
-	l := []api.Conflict{of(t, "{1}", "{2}", "{3}", api.Step{Kind: api.Word}), of(t, "_", "y[]", "_")}
-	want := []api.Conflict{of(t, "{1}", "{3}", "{2}", api.Step{Kind: api.Word}), of(t, "_", "_", "y[]")}
+	l := []api.Conflict{of("{1}", "{2}", "{3}", api.Step{Kind: api.Word}), of("_", "y[]", "_")}
+	want := []api.Conflict{of("{1}", "{3}", "{2}", api.Step{Kind: api.Word}), of("_", "_", "y[]")}
 	got := conflict.Turned(l)
 	if !equal(got, want) {
 		t.Errorf("%+v", got)

@@ -6,34 +6,13 @@ import (
 	"testing"
 
 	"cento/api"
-	"cento/arena"
 	"cento/build"
 	"cento/canon"
 	"cento/copy"
-	"cento/ptr"
 	"cento/reader"
 	"cento/sample"
 	"cento/text"
 )
-
-// value tells the value of a tree that stands in a text, in a message in which nothing is trimmed.
-func value(t *testing.T, s string) reader.Ref {
-	t.Helper()
-	x, err := text.Parse(s)
-	if err != api.OK {
-		t.Fatalf("%s is no tree's text", s)
-	}
-	return root(t, sample.Message(x))
-}
-
-func root(t *testing.T, words []uint64) reader.Ref {
-	t.Helper()
-	r, err := reader.Root(arena.Of([][]uint64{words}))
-	if err != api.OK {
-		t.Fatalf("%x: %d", words, err)
-	}
-	return r
-}
 
 // 14.1
 func TestLongAndWide(t *testing.T) {
@@ -45,7 +24,7 @@ func TestLongAndWide(t *testing.T) {
 		{"{|_}", 0, 0}, {"{|_,_}", 0, 0}, {"{|{}}", 0, 1}, {"{|_,{0}}", 0, 2}, {"{|_,y[],_,_}", 0, 2}, {"{1|_,_,{|_}}", 1, 3},
 		{"p[_,{},_]", 0, 2}, {"p[_]", 0, 0}, {"y[0,0]", 0, 2}, {"c[{},{}]", 0, 2},
 	} {
-		r := value(t, c.s)
+		r := sample.ValueOf(c.s)
 		if n := copy.Long(r); n != c.long {
 			t.Errorf("Long of %s: %d", c.s, n)
 		}
@@ -53,7 +32,7 @@ func TestLongAndWide(t *testing.T) {
 			t.Errorf("Wide of %s: %d, %d", c.s, n, err)
 		}
 	}
-	k, _ := value(t, "y[0,7]").Kid(1)
+	k, _ := sample.ValueOf("y[0,7]").Kid(1)
 	if n := copy.Long(k); n != 1 {
 		t.Errorf("Long of an atom: %d", n)
 	}
@@ -61,10 +40,7 @@ func TestLongAndWide(t *testing.T) {
 
 // 14.1: a kid with an error is told by its number, if all behind it are nothing.
 func TestWideWithAnError(t *testing.T) {
-	three, ok := ptr.Encode(ptr.Ptr{Kind: ptr.Struct, Ptrs: 3})
-	if !ok {
-		t.Fatal("no word")
-	}
+	three := sample.Pointer(sample.ToStruct(0, 0, 3))
 	const something = 0xfffffffc
 	for _, c := range []struct {
 		kids []uint64
@@ -78,7 +54,7 @@ func TestWideWithAnError(t *testing.T) {
 		{[]uint64{0, 10, 0}, 2, api.ErrPtr},
 		{[]uint64{1 << 40, 0, 0}, 1, api.ErrBounds},
 	} {
-		if n, err := copy.Wide(root(t, append([]uint64{three}, c.kids...))); n != c.n || err != c.err {
+		if n, err := copy.Wide(sample.Segment(append([]uint64{three}, c.kids...)...)); n != c.n || err != c.err {
 			t.Errorf("%x: %d, %d", c.kids, n, err)
 		}
 	}
@@ -91,14 +67,14 @@ func TestWords(t *testing.T) {
 		"p[]", "p[y[1],{2,0},_,y[],_]", "c[]", "c[{},{}]", "c[{0},{|_}]", "c[{1,0},{0},{2,3,0|_}]", "c[{1|_,_},{|y[1],y[2],_},{|y[3]}]", "{|v[0],p[],{0}}",
 		"c[{|c[{|c[{1,0}]}]}]",
 	} {
-		checkWords(t, s, value(t, s))
+		checkWords(t, s, sample.ValueOf(s))
 	}
-	if l, err := copy.Words(root(t, []uint64{0x0000000200000000, 7, 0}), 10); err != api.OK || !slices.Equal(l, []uint64{0x0000000100000000, 7}) {
+	if l, err := copy.Words(sample.Segment(0x0000000200000000, 7, 0), 10); err != api.OK || !slices.Equal(l, []uint64{0x0000000100000000, 7}) {
 		t.Errorf("the example: %x, %d", l, err)
 	}
 	for seed := range 3000 {
 		x := sample.From(seed).Tree(5)
-		checkWords(t, text.Print(x), root(t, sample.Message(x)))
+		checkWords(t, text.Print(x), sample.Value(x))
 	}
 }
 
@@ -140,7 +116,7 @@ func TestWordsOfSeveralSegments(t *testing.T) {
 
 // 14.1
 func TestWordsOfKids(t *testing.T) {
-	r := value(t, "{1|_,c[{1,0},{2|y[1],_}],_}")
+	r := sample.ValueOf("{1|_,c[{1,0},{2|y[1],_}],_}")
 	list, _ := r.Kid(1)
 	kid, _ := list.Kid(1)
 	checkWords(t, "c[{1},{2|y[1]}]", list)
@@ -150,7 +126,7 @@ func TestWordsOfKids(t *testing.T) {
 
 // 14.1
 func TestWordsRefuses(t *testing.T) {
-	k, _ := value(t, "y[5]").Kid(0)
+	k, _ := sample.ValueOf("y[5]").Kid(0)
 	for _, most := range []int{-1, 0, 1, 100} {
 		if l, err := copy.Words(k, most); err != api.ErrKind || len(l) != 0 {
 			t.Errorf("an atom: %x, %d", l, err)
@@ -160,25 +136,18 @@ func TestWordsRefuses(t *testing.T) {
 
 // 14.1: at the greatest limits.
 func TestTheGreatest(t *testing.T) {
-	word := func(p ptr.Ptr) uint64 {
-		w, ok := ptr.Encode(p)
-		if !ok {
-			t.Fatalf("no word of %+v", p)
-		}
-		return w
-	}
 	// Few structs, each with as many words, and one more list: each is told where it is pointed to.
-	words := []uint64{word(ptr.Ptr{Kind: ptr.List, Code: 6, Count: 3})}
+	words := []uint64{sample.Pointer(sample.ToList(0, 6, 3))}
 	for i := range 3 {
-		words = append(words, word(ptr.Ptr{Kind: ptr.Struct, Off: 2 - i, Data: 21000}))
+		words = append(words, sample.Pointer(sample.ToStruct(2-i, 21000, 0)))
 	}
 	big := make([]uint64, 21000)
 	big[20999] = 1
-	r := root(t, append(words, big...))
+	r := sample.Segment(append(words, big...)...)
 	if l, err := copy.Words(r, math.MaxInt); err != api.OK || len(l) != 4+3*21000 {
 		t.Errorf("%d words, %d", len(l), err)
 	}
-	voids := root(t, []uint64{word(ptr.Ptr{Kind: ptr.List, Count: 65535})})
+	voids := sample.Segment(sample.Pointer(sample.ToList(0, 0, 65535)))
 	if l, err := copy.Words(voids, 1); err != api.OK || len(l) != 1 {
 		t.Errorf("65535 nothings: %d words, %d", len(l), err)
 	}

@@ -10,27 +10,11 @@ import (
 	"cento/etext"
 	"cento/patch"
 	"cento/sample"
-	"cento/text"
 	"cento/tree"
 )
 
-func ed(t *testing.T, s string) api.Edit {
-	t.Helper()
-	e, err := etext.Parse(s)
-	if err != api.OK {
-		t.Fatalf("%s is no edit's text", s)
-	}
-	return e
-}
-
-func tr(t *testing.T, s string) api.Tree {
-	t.Helper()
-	x, err := text.Parse(s)
-	if err != api.OK {
-		t.Fatalf("%s is no tree's text", s)
-	}
-	return x
-}
+// Short forms of what the tests are written with.
+var tr, ed = sample.TreeOf, sample.EditOf
 
 // check holds the number of words against the tree, and the words, of an edit.
 func check(t *testing.T, e api.Edit) {
@@ -55,10 +39,10 @@ func TestWords(t *testing.T) {
 		{"s{|0:s{|}}", 7}, {"s{|1:s{|}}", 8}, {"s{|0:(_>_),5:s{|}}", 11}, {"s{0:1:1:2|0:(_>_)}", 11},
 		{"ly[]", 2}, {"ly[k2]", 5}, {"ly[k1,-y[5]]", 9}, {"ly[k2,-y[5],+y[6,7]]", 12}, {"lv[+v[0,0]]", 6}, {"lp[-p[_,{1}]]", 9}, {"lc[*s{|}]", 7}, {"lc[+c[{},{}]]", 7},
 	} {
-		if n := cost.Words(ed(t, c.s)); n != c.want {
+		if n := cost.Words(ed(c.s)); n != c.want {
 			t.Errorf("%s: %d, not %d", c.s, n, c.want)
 		}
-		check(t, ed(t, c.s))
+		check(t, ed(c.s))
 	}
 	for seed := range 4000 {
 		s := sample.From(seed)
@@ -70,7 +54,7 @@ func TestWords(t *testing.T) {
 
 // 39.1: whether they would be too many, or too deep, or not.
 func TestWordsBeyondTheLimits(t *testing.T) {
-	deep := ed(t, "s{|}")
+	deep := ed("s{|}")
 	for range 63 {
 		deep = api.Edit{Kind: api.StructEdit, Kids: []api.KidEdit{{E: deep}}}
 	}
@@ -84,7 +68,7 @@ func TestWordsBeyondTheLimits(t *testing.T) {
 		t.Errorf("%d words", n)
 	}
 	check(t, three)
-	if n := cost.Saves(three, tr(t, "{5}")); n != 2-(3*65535+9) {
+	if n := cost.Saves(three, tr("{5}")); n != 2-(3*65535+9) {
 		t.Errorf("it saves %d", n)
 	}
 }
@@ -97,7 +81,7 @@ func TestSaves(t *testing.T) {
 	}{
 		{"=", "_", 0}, {"=", "{5}", 1}, {"(_>_)", "_", -1}, {"s{0:1:1:2|}", "{2}", -5}, {"s{0:1:1:2|}", "{2,0,1,1,1,1,1,1,1,1}", 4}, {"=", "{5,0|_}", 1},
 	} {
-		if n := cost.Saves(ed(t, c.e), tr(t, c.to)); n != c.want {
+		if n := cost.Saves(ed(c.e), tr(c.to)); n != c.want {
 			t.Errorf("%s, %s: %d, not %d", c.e, c.to, n, c.want)
 		}
 	}
@@ -105,7 +89,7 @@ func TestSaves(t *testing.T) {
 	for range 65535 {
 		wide.Words = append(wide.Words, 1)
 	}
-	if n := cost.Saves(ed(t, "="), api.Tree{Kind: api.Pointers, Kids: []api.Tree{wide, wide, wide}}); n != 0 {
+	if n := cost.Saves(ed("="), api.Tree{Kind: api.Pointers, Kids: []api.Tree{wide, wide, wide}}); n != 0 {
 		t.Errorf("of a tree without words it saves %d", n)
 	}
 }

@@ -15,38 +15,17 @@ import (
 	"cento/tree"
 )
 
-func tr(t *testing.T, s string) api.Tree {
-	t.Helper()
-	x, err := text.Parse(s)
-	if err != api.OK {
-		t.Fatalf("%s is no tree's text", s)
-	}
-	return x
-}
-
-func replace(t *testing.T, old, now string) api.Edit {
-	t.Helper()
-	return api.Edit{Kind: api.Replace, Old: tr(t, old), New: tr(t, now)}
-}
-
-func list(kind int, ops ...api.Op) api.Edit {
-	return api.Edit{Kind: api.ListEdit, List: kind, Ops: ops}
-}
-
-func keep(n int) api.Op           { return api.Op{Kind: api.Keep, N: n} }
-func del(l ...api.Tree) api.Op    { return api.Op{Kind: api.Delete, L: l} }
-func insert(l ...api.Tree) api.Op { return api.Op{Kind: api.Insert, L: l} }
-func descend(e api.Edit) api.Op   { return api.Op{Kind: api.Descend, E: e} }
-
-func words(l ...api.WordEdit) api.Edit { return api.Edit{Kind: api.StructEdit, Words: l} }
-func kids(l ...api.KidEdit) api.Edit   { return api.Edit{Kind: api.StructEdit, Kids: l} }
+// Short forms of what the tests are written with.
+var (
+	tr, replace, list, keep     = sample.TreeOf, sample.Replace, sample.Ops, sample.Keep
+	del, insert, descend, words = sample.Delete, sample.Insert, sample.Descend, sample.Words
+	kids, atom                  = sample.Kids, sample.Number
+)
 
 // word tells an edit of the lowest byte of a word.
 func word(at int, old, now uint64) api.Edit {
 	return words(api.WordEdit{At: at, Mask: 1, Old: old, New: now})
 }
-
-func atom(n uint64) api.Tree { return api.Tree{Kind: api.Atom, Words: []uint64{n}} }
 
 // 26.2
 func TestWord(t *testing.T) {
@@ -80,17 +59,17 @@ func TestTrees(t *testing.T) {
 		{"{1,0|_}", "{1}", 9, api.Edit{}},
 		{"p[{0},_]", "p[{},_]", 0, api.Edit{}},
 		{"{1}", "{1|_}", -1, api.Edit{}},
-		{"_", "{}", 9, replace(t, "_", "{}")},
-		{"{1,0}", "y[1]", 9, replace(t, "{1}", "y[1]")},
-		{"y[1]", "t[1]", 9, replace(t, "y[1]", "t[1]")},
-		{"c[]", "p[]", 9, replace(t, "c[]", "p[]")},
+		{"_", "{}", 9, replace("_", "{}")},
+		{"{1,0}", "y[1]", 9, replace("{1}", "y[1]")},
+		{"y[1]", "t[1]", 9, replace("y[1]", "t[1]")},
+		{"c[]", "p[]", 9, replace("c[]", "p[]")},
 		{"{1}", "{2}", 9, word(0, 1, 2)},
 		{"{1}", "{1,2}", 9, word(1, 0, 2)},
 		{"{1,2}", "{1}", 9, word(1, 2, 0)},
 		{"{1,0,3}", "{}", 9, words(api.WordEdit{At: 0, Mask: 1, Old: 1}, api.WordEdit{At: 2, Mask: 1, Old: 3})},
 		{"{|{1},y[1]}", "{|{2},y[1]}", 9, kids(api.KidEdit{At: 0, E: word(0, 1, 2)})},
-		{"{1}", "{2|_,{1}}", 9, two(word(0, 1, 2), kids(api.KidEdit{At: 1, E: replace(t, "_", "{1}")}))},
-		{"{|{1}}", "{}", 9, kids(api.KidEdit{At: 0, E: replace(t, "{1}", "_")})},
+		{"{1}", "{2|_,{1}}", 9, two(word(0, 1, 2), kids(api.KidEdit{At: 1, E: replace("_", "{1}")}))},
+		{"{|{1}}", "{}", 9, kids(api.KidEdit{At: 0, E: replace("{1}", "_")})},
 
 		{"y[1,2,3]", "y[1,9,3]", 9, list(api.Byte, keep(1), del(atom(2)), insert(atom(9)), keep(1))},
 		{"y[1,2,3]", "y[1,9,3]", 2, list(api.Byte, keep(1), del(atom(2)), insert(atom(9)), keep(1))},
@@ -99,20 +78,20 @@ func TestTrees(t *testing.T) {
 		{"y[]", "y[1]", 0, list(api.Byte, insert(atom(1)))},
 		{"y[1]", "y[2]", -5, list(api.Byte, del(atom(1)), insert(atom(2)))},
 		{"y[5,5]", "y[5]", 9, list(api.Byte, del(atom(5)), keep(1))},
-		{"p[{1,0},_,y[]]", "p[_,y[],{1}]", 9, list(api.Pointers, del(tr(t, "{1}")), keep(2), insert(tr(t, "{1}")))},
+		{"p[{1,0},_,y[]]", "p[_,y[],{1}]", 9, list(api.Pointers, del(tr("{1}")), keep(2), insert(tr("{1}")))},
 		// Those that go together are edited; of lists of no limit those that mean the same are kept.
 		{"c[{1,2}]", "c[{1,3}]", 9, list(api.Composite, descend(word(1, 2, 3)))},
 		{"c[{1,2},{5},{7}]", "c[{1,3},{5},{8}]", 9, list(api.Composite, descend(word(1, 2, 3)), keep(1), descend(word(0, 7, 8)))},
-		{"p[{1,2},_]", "p[y[1],{1,3},_]", 9, list(api.Pointers, insert(tr(t, "y[1]")), descend(word(1, 2, 3)), keep(1))},
-		{"p[{1},y[2]]", "p[y[3],{4}]", 9, list(api.Pointers, insert(tr(t, "y[3]")), descend(word(0, 1, 4)), del(tr(t, "y[2]")))},
-		{"p[{1,1},{1,2}]", "p[{1,2},{1,3}]", 0, list(api.Pointers, del(tr(t, "{1,1}")), keep(1), insert(tr(t, "{1,3}")))},
-		{"p[_]", "p[{}]", 9, list(api.Pointers, del(tr(t, "_")), insert(tr(t, "{}")))},
+		{"p[{1,2},_]", "p[y[1],{1,3},_]", 9, list(api.Pointers, insert(tr("y[1]")), descend(word(1, 2, 3)), keep(1))},
+		{"p[{1},y[2]]", "p[y[3],{4}]", 9, list(api.Pointers, insert(tr("y[3]")), descend(word(0, 1, 4)), del(tr("y[2]")))},
+		{"p[{1,1},{1,2}]", "p[{1,2},{1,3}]", 0, list(api.Pointers, del(tr("{1,1}")), keep(1), insert(tr("{1,3}")))},
+		{"p[_]", "p[{}]", 9, list(api.Pointers, del(tr("_")), insert(tr("{}")))},
 		{"p[p[y[1,2]]]", "p[p[y[1,3]]]", 9, list(api.Pointers, descend(list(api.Pointers, descend(list(api.Byte, keep(1), del(atom(2)), insert(atom(3)))))))},
 		// The limit holds within, too.
 		{"{|y[1,2,3]}", "{|y[1,3]}", 0, kids(api.KidEdit{At: 0, E: list(api.Byte, del(atom(1), atom(2), atom(3)), insert(atom(1), atom(3)))})},
 		{"p[y[1,2,3]]", "p[y[1,3]]", 0, list(api.Pointers, descend(list(api.Byte, del(atom(1), atom(2), atom(3)), insert(atom(1), atom(3)))))},
 	} {
-		if got := diff.Trees(tr(t, c.a), tr(t, c.b), c.most); !edit.Equal(got, c.want) {
+		if got := diff.Trees(tr(c.a), tr(c.b), c.most); !edit.Equal(got, c.want) {
 			t.Errorf("from %s to %s, limit %d: %+v, not %+v", c.a, c.b, c.most, got, c.want)
 		}
 	}
@@ -129,11 +108,11 @@ func TestGap(t *testing.T) {
 		{api.Byte, "y[1]", "y[]", []api.Op{del(atom(1))}},
 		{api.Byte, "y[]", "y[1,2]", []api.Op{insert(atom(1), atom(2))}},
 		{api.Byte, "y[1,2]", "y[3]", []api.Op{del(atom(1), atom(2)), insert(atom(3))}},
-		{api.Pointers, "p[_,{1},y[1]]", "p[{2},_,y[1,2]]", []api.Op{del(tr(t, "_")), descend(word(0, 1, 2)), insert(tr(t, "_")), descend(list(api.Byte, keep(1), insert(atom(2))))}},
-		{api.Pointers, "p[{1,2},_,_]", "p[_,{1,3},y[1]]", []api.Op{insert(tr(t, "_")), descend(word(1, 2, 3)), del(tr(t, "_"), tr(t, "_")), insert(tr(t, "y[1]"))}},
-		{api.Composite, "c[{1,1},{2,2},{3,3}]", "c[{2,4},{3,5}]", []api.Op{del(tr(t, "{1,1}")), descend(word(1, 2, 4)), descend(word(1, 3, 5))}},
+		{api.Pointers, "p[_,{1},y[1]]", "p[{2},_,y[1,2]]", []api.Op{del(tr("_")), descend(word(0, 1, 2)), insert(tr("_")), descend(list(api.Byte, keep(1), insert(atom(2))))}},
+		{api.Pointers, "p[{1,2},_,_]", "p[_,{1,3},y[1]]", []api.Op{insert(tr("_")), descend(word(1, 2, 3)), del(tr("_"), tr("_")), insert(tr("y[1]"))}},
+		{api.Composite, "c[{1,1},{2,2},{3,3}]", "c[{2,4},{3,5}]", []api.Op{del(tr("{1,1}")), descend(word(1, 2, 4)), descend(word(1, 3, 5))}},
 	} {
-		got := diff.Gap(c.list, tr(t, c.old).Kids, tr(t, c.now).Kids, 9)
+		got := diff.Gap(c.list, tr(c.old).Kids, tr(c.now).Kids, 9)
 		if !edit.Equal(list(c.list, got...), list(c.list, c.want...)) {
 			t.Errorf("Gap of %s and %s: %+v, not %+v", c.old, c.now, got, c.want)
 		}

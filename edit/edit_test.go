@@ -7,35 +7,14 @@ import (
 	"cento/api"
 	"cento/edit"
 	"cento/sample"
-	"cento/text"
 )
 
-func tr(t *testing.T, s string) api.Tree {
-	t.Helper()
-	x, err := text.Parse(s)
-	if err != api.OK {
-		t.Fatalf("%s is no tree's text", s)
-	}
-	return x
-}
-
-func replace(t *testing.T, old, now string) api.Edit {
-	t.Helper()
-	return api.Edit{Kind: api.Replace, Old: tr(t, old), New: tr(t, now)}
-}
-
-func list(kind int, ops ...api.Op) api.Edit {
-	return api.Edit{Kind: api.ListEdit, List: kind, Ops: ops}
-}
-
-func keep(n int) api.Op                { return api.Op{Kind: api.Keep, N: n} }
-func del(l ...api.Tree) api.Op         { return api.Op{Kind: api.Delete, L: l} }
-func insert(l ...api.Tree) api.Op      { return api.Op{Kind: api.Insert, L: l} }
-func descend(e api.Edit) api.Op        { return api.Op{Kind: api.Descend, E: e} }
-func words(l ...api.WordEdit) api.Edit { return api.Edit{Kind: api.StructEdit, Words: l} }
-func kids(l ...api.KidEdit) api.Edit   { return api.Edit{Kind: api.StructEdit, Kids: l} }
-
-func atom(n uint64) api.Tree { return api.Tree{Kind: api.Atom, Words: []uint64{n}} }
+// Short forms of what the tests are written with.
+var (
+	tr, replace, list, keep     = sample.TreeOf, sample.Replace, sample.Ops, sample.Keep
+	del, insert, descend, words = sample.Delete, sample.Insert, sample.Descend, sample.Words
+	kids, atom                  = sample.Kids, sample.Number
+)
 
 // nested tells n edits within one another.
 func nested(n int) api.Edit {
@@ -46,36 +25,27 @@ func nested(n int) api.Edit {
 	return e
 }
 
-// deep tells n structs within one another.
-func deep(n int) api.Tree {
-	x := api.Tree{}
-	for range n {
-		x = api.Tree{Kind: api.Struct, Kids: []api.Tree{x}}
-	}
-	return x
-}
-
 var null, same = api.Tree{}, api.Edit{}
 
 // rightOnes are edits of all kinds that may be.
-func rightOnes(t *testing.T) []api.Edit {
+func rightOnes() []api.Edit {
 	st := api.Edit{Kind: api.StructEdit}
 	return []api.Edit{
-		same, replace(t, "_", "_"), replace(t, "{1,0|_}", "y[5]"), st,
+		same, replace("_", "_"), replace("{1,0|_}", "y[5]"), st,
 		words(api.WordEdit{At: 0, Mask: 1, Old: 5, New: 6}), words(api.WordEdit{At: 0, Mask: 1, Old: 5, New: 5}),
 		words(api.WordEdit{At: 0, Mask: 0x81, Old: 0xff000000000000ff, New: 0x01}, api.WordEdit{At: 65534, Mask: 0xff, New: math.MaxUint64}),
-		kids(api.KidEdit{At: 0, E: replace(t, "_", "{}")}, api.KidEdit{At: 65534, E: st}),
+		kids(api.KidEdit{At: 0, E: replace("_", "{}")}, api.KidEdit{At: 65534, E: st}),
 		list(api.Void), list(api.Byte, keep(2), del(atom(5)), insert(atom(6), atom(7))), list(api.Void, insert(atom(0), atom(0))), list(api.Eight, del(atom(math.MaxUint64))),
 		list(api.Byte, insert(atom(1)), insert(atom(2)), del(atom(3)), keep(1), keep(1)), list(api.Byte, keep(api.MaxList-1)),
-		list(api.Pointers, del(null, tr(t, "y[5]"), tr(t, "{1,0|_}"))), list(api.Pointers, descend(replace(t, "_", "{}")), descend(st), descend(list(api.Pointers))), list(api.Pointers, insert(deep(63))),
-		list(api.Composite, del(tr(t, "{1,0}")), descend(st), descend(replace(t, "{1}", "{}")), keep(7)),
-		nested(64), replace(t, "_", "p[]"), {Kind: api.Replace, Old: deep(64), New: deep(64)},
+		list(api.Pointers, del(null, tr("y[5]"), tr("{1,0|_}"))), list(api.Pointers, descend(replace("_", "{}")), descend(st), descend(list(api.Pointers))), list(api.Pointers, insert(sample.Nested(63))),
+		list(api.Composite, del(tr("{1,0}")), descend(st), descend(replace("{1}", "{}")), keep(7)),
+		nested(64), replace("_", "p[]"), {Kind: api.Replace, Old: sample.Nested(64), New: sample.Nested(64)},
 	}
 }
 
 // 20.1
 func TestRight(t *testing.T) {
-	for _, e := range rightOnes(t) {
+	for _, e := range rightOnes() {
 		if !edit.Right(e) {
 			t.Errorf("%+v is refused", e)
 		}
@@ -86,7 +56,7 @@ func TestRight(t *testing.T) {
 	for name, e := range map[string]api.Edit{
 		"no kind":                         {Kind: 4},
 		"a kind below 0":                  {Kind: -1},
-		"Same with Old":                   {Old: tr(t, "{}")},
+		"Same with Old":                   {Old: tr("{}")},
 		"Same with New's words":           {New: api.Tree{Words: []uint64{1}}},
 		"Same with New's kids":            {New: api.Tree{Kids: []api.Tree{null}}},
 		"Same with words":                 {Words: []api.WordEdit{w}},
@@ -101,9 +71,9 @@ func TestRight(t *testing.T) {
 		"Replace by an atom":              {Kind: api.Replace, New: atom(1)},
 		"Replace of what is not right":    {Kind: api.Replace, Old: api.Tree{Kind: api.Bit, Kids: []api.Tree{atom(2)}}},
 		"Replace by what is not right":    {Kind: api.Replace, New: api.Tree{Words: []uint64{1}}},
-		"Replace by what is too deep":     {Kind: api.Replace, New: deep(65)},
-		"StructEdit with Old":             {Kind: api.StructEdit, Old: tr(t, "{}")},
-		"StructEdit with New":             {Kind: api.StructEdit, New: tr(t, "{}")},
+		"Replace by what is too deep":     {Kind: api.Replace, New: sample.Nested(65)},
+		"StructEdit with Old":             {Kind: api.StructEdit, Old: tr("{}")},
+		"StructEdit with New":             {Kind: api.StructEdit, New: tr("{}")},
 		"StructEdit with a list":          {Kind: api.StructEdit, List: api.Byte},
 		"StructEdit with steps":           {Kind: api.StructEdit, Ops: []api.Op{keep(1)}},
 		"a word below 0":                  words(api.WordEdit{At: -1, Mask: 1}),
@@ -119,8 +89,8 @@ func TestRight(t *testing.T) {
 		"kids the other way round":        kids(k, api.KidEdit{At: 2, E: st}),
 		"a kid by Same":                   kids(api.KidEdit{At: 0}),
 		"a kid by what is not right":      kids(api.KidEdit{At: 0, E: words(w, w)}),
-		"ListEdit with Old":               {Kind: api.ListEdit, List: api.Byte, Old: tr(t, "{}")},
-		"ListEdit with New":               {Kind: api.ListEdit, List: api.Byte, New: tr(t, "{}")},
+		"ListEdit with Old":               {Kind: api.ListEdit, List: api.Byte, Old: tr("{}")},
+		"ListEdit with New":               {Kind: api.ListEdit, List: api.Byte, New: tr("{}")},
 		"ListEdit with words":             {Kind: api.ListEdit, List: api.Byte, Words: []api.WordEdit{w}},
 		"ListEdit with kids":              {Kind: api.ListEdit, List: api.Byte, Kids: []api.KidEdit{k}},
 		"ListEdit of no list":             list(api.Struct),
@@ -146,17 +116,17 @@ func TestRight(t *testing.T) {
 		"Insert of an atom of two words":  list(api.Byte, insert(api.Tree{Kind: api.Atom, Words: []uint64{1, 2}})),
 		"Delete of an atom among others":  list(api.Pointers, del(atom(1))),
 		"Insert of what is not right":     list(api.Pointers, insert(api.Tree{Words: []uint64{1}})),
-		"Insert of a list among structs":  list(api.Composite, insert(tr(t, "y[5]"))),
+		"Insert of a list among structs":  list(api.Composite, insert(tr("y[5]"))),
 		"Delete of nothing among structs": list(api.Composite, del(null)),
-		"Descend into a byte":             list(api.Byte, descend(replace(t, "_", "{}"))),
+		"Descend into a byte":             list(api.Byte, descend(replace("_", "{}"))),
 		"Descend by Same":                 list(api.Pointers, descend(same)),
 		"Descend with a number":           list(api.Pointers, api.Op{Kind: api.Descend, N: 1, E: st}),
 		"Descend with kids":               list(api.Pointers, api.Op{Kind: api.Descend, L: []api.Tree{null}, E: st}),
 		"Descend by what is not right":    list(api.Pointers, descend(words(w, w))),
 		"Descend into a struct by Same":   list(api.Composite, descend(same)),
 		"Descend into a struct as a list": list(api.Composite, descend(list(api.Byte))),
-		"Descend from a struct to a list": list(api.Composite, descend(replace(t, "{}", "y[5]"))),
-		"Descend from nothing":            list(api.Composite, descend(replace(t, "_", "{}"))),
+		"Descend from a struct to a list": list(api.Composite, descend(replace("{}", "y[5]"))),
+		"Descend from nothing":            list(api.Composite, descend(replace("_", "{}"))),
 		"too many ahead":                  list(api.Byte, keep(api.MaxList)),
 		"too many ahead, in two":          list(api.Byte, keep(api.MaxList-1), del(atom(1))),
 		"too many behind":                 list(api.Byte, keep(api.MaxList-1), insert(atom(1))),
@@ -196,7 +166,7 @@ func TestLengths(t *testing.T) {
 
 // 20.2
 func TestEqual(t *testing.T) {
-	ones := rightOnes(t)
+	ones := rightOnes()
 	for i, a := range ones {
 		for j, b := range ones {
 			if edit.Equal(a, b) != (i == j) {
@@ -214,22 +184,22 @@ func TestEqual(t *testing.T) {
 		a, b api.Edit
 		want bool
 	}{
-		{replace(t, "{1,0}", "{|_}"), replace(t, "{1}", "{}"), true},
-		{replace(t, "{1}", "{}"), replace(t, "{2}", "{}"), false},
-		{replace(t, "{1}", "{}"), replace(t, "{1}", "_"), false},
-		{list(api.Pointers, del(tr(t, "{1,0}"), null)), list(api.Pointers, del(tr(t, "{1}"), null)), true},
-		{list(api.Pointers, del(tr(t, "{1,0}"), null)), list(api.Pointers, del(tr(t, "{1}"))), false},
+		{replace("{1,0}", "{|_}"), replace("{1}", "{}"), true},
+		{replace("{1}", "{}"), replace("{2}", "{}"), false},
+		{replace("{1}", "{}"), replace("{1}", "_"), false},
+		{list(api.Pointers, del(tr("{1,0}"), null)), list(api.Pointers, del(tr("{1}"), null)), true},
+		{list(api.Pointers, del(tr("{1,0}"), null)), list(api.Pointers, del(tr("{1}"))), false},
 		{list(api.Pointers, del(null)), list(api.Pointers, insert(null)), false},
 		{list(api.Pointers, del(null), del(null)), list(api.Pointers, del(null, null)), false},
-		{list(api.Pointers, insert(null)), list(api.Pointers, insert(tr(t, "{}"))), false},
+		{list(api.Pointers, insert(null)), list(api.Pointers, insert(tr("{}"))), false},
 		{list(api.Byte), list(api.Two), false},
 		{list(api.Byte, keep(1)), list(api.Byte, keep(2)), false},
 		{list(api.Byte, keep(1), keep(1)), list(api.Byte, keep(2)), false},
-		{list(api.Composite, descend(replace(t, "{1,0}", "{}"))), list(api.Composite, descend(replace(t, "{1}", "{0}"))), true},
+		{list(api.Composite, descend(replace("{1,0}", "{}"))), list(api.Composite, descend(replace("{1}", "{0}"))), true},
 		{list(api.Composite, descend(words(w))), list(api.Composite, descend(words())), false},
 		{kids(api.KidEdit{At: 1, E: words(w)}), kids(api.KidEdit{At: 2, E: words(w)}), false},
 		{kids(api.KidEdit{At: 1, E: words(w)}), kids(api.KidEdit{At: 1, E: words()}), false},
-		{kids(api.KidEdit{At: 1, E: replace(t, "_", "{0}")}), kids(api.KidEdit{At: 1, E: replace(t, "_", "{}")}), true},
+		{kids(api.KidEdit{At: 1, E: replace("_", "{0}")}), kids(api.KidEdit{At: 1, E: replace("_", "{}")}), true},
 		{words(w), words(w, api.WordEdit{At: 4, Mask: 1}), false},
 		{same, api.Edit{Words: []api.WordEdit{}, Kids: []api.KidEdit{}, Ops: []api.Op{}}, true},
 	} {
@@ -246,8 +216,8 @@ func TestCount(t *testing.T) {
 		e    api.Edit
 		want int
 	}{
-		{same, 1}, {replace(t, "_", "{1|{2}}"), 1}, {words(), 1}, {words(w), 2}, {words(w, api.WordEdit{At: 4, Mask: 1}), 3},
-		{kids(api.KidEdit{At: 0, E: words(w)}, api.KidEdit{At: 1, E: replace(t, "_", "{}")}), 4},
+		{same, 1}, {replace("_", "{1|{2}}"), 1}, {words(), 1}, {words(w), 2}, {words(w, api.WordEdit{At: 4, Mask: 1}), 3},
+		{kids(api.KidEdit{At: 0, E: words(w)}, api.KidEdit{At: 1, E: replace("_", "{}")}), 4},
 		{list(api.Byte), 1}, {list(api.Byte, keep(9), del(atom(1), atom(2)), insert(atom(3))), 4},
 		{list(api.Composite, descend(words(w)), keep(1), descend(words())), 1 + 3 + 2 + 1},
 		{nested(64), 64},

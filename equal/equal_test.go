@@ -4,7 +4,6 @@ import (
 	"testing"
 
 	"cento/api"
-	"cento/arena"
 	"cento/build"
 	"cento/equal"
 	"cento/reader"
@@ -12,15 +11,6 @@ import (
 	"cento/text"
 	"cento/tree"
 )
-
-func root(t *testing.T, a *arena.Arena) reader.Ref {
-	t.Helper()
-	r, err := reader.Root(a)
-	if err != api.OK {
-		t.Fatal(err)
-	}
-	return r
-}
 
 // values tells the value of a tree in three messages: just as it stands, and of the words that count, in one segment, and in several.
 func values(t *testing.T, x api.Tree) []reader.Ref {
@@ -30,7 +20,7 @@ func values(t *testing.T, x api.Tree) []reader.Ref {
 	if !ok1 || !ok2 {
 		t.Fatalf("%s: there is no room", text.Print(x))
 	}
-	return []reader.Ref{root(t, arena.Of([][]uint64{sample.Message(x)})), root(t, one), root(t, several)}
+	return []reader.Ref{sample.Value(x), sample.Root(one), sample.Root(several)}
 }
 
 func hash(t *testing.T, r reader.Ref) uint64 {

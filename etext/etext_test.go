@@ -12,33 +12,12 @@ import (
 	"cento/text"
 )
 
-func tr(t *testing.T, s string) api.Tree {
-	t.Helper()
-	x, err := text.Parse(s)
-	if err != api.OK {
-		t.Fatalf("%s is no tree's text", s)
-	}
-	return x
-}
-
-func replace(t *testing.T, old, now string) api.Edit {
-	t.Helper()
-	return api.Edit{Kind: api.Replace, Old: tr(t, old), New: tr(t, now)}
-}
-
-func list(kind int, ops ...api.Op) api.Edit {
-	return api.Edit{Kind: api.ListEdit, List: kind, Ops: ops}
-}
-
-func keep(n int) api.Op           { return api.Op{Kind: api.Keep, N: n} }
-func del(l ...api.Tree) api.Op    { return api.Op{Kind: api.Delete, L: l} }
-func insert(l ...api.Tree) api.Op { return api.Op{Kind: api.Insert, L: l} }
-func descend(e api.Edit) api.Op   { return api.Op{Kind: api.Descend, E: e} }
-
-func words(l ...api.WordEdit) api.Edit { return api.Edit{Kind: api.StructEdit, Words: l} }
-func kids(l ...api.KidEdit) api.Edit   { return api.Edit{Kind: api.StructEdit, Kids: l} }
-
-func atom(n uint64) api.Tree { return api.Tree{Kind: api.Atom, Words: []uint64{n}} }
+// Short forms of what the tests are written with.
+var (
+	tr, replace, list, keep     = sample.TreeOf, sample.Replace, sample.Ops, sample.Keep
+	del, insert, descend, words = sample.Delete, sample.Insert, sample.Descend, sample.Words
+	kids, atom                  = sample.Kids, sample.Number
+)
 
 // shown tells an edit with its trees as they stand.
 func shown(e api.Edit) string {
@@ -63,18 +42,18 @@ func TestPrintAndParse(t *testing.T) {
 		s string
 	}{
 		{api.Edit{}, "="},
-		{replace(t, "_", "_"), "(_>_)"},
-		{replace(t, "{1,0|_}", "p[y[5],_]"), "({1,0|_}>p[y[5],_])"},
+		{replace("_", "_"), "(_>_)"},
+		{replace("{1,0|_}", "p[y[5],_]"), "({1,0|_}>p[y[5],_])"},
 		{words(), "s{|}"},
 		{words(api.WordEdit{Mask: 1, Old: 1, New: 2}), "s{0:1:1:2|}"},
 		{words(w, api.WordEdit{At: 65534, Mask: 0xff}), "s{a:81:5:8000000000000000,fffe:ff:0:0|}"},
-		{kids(api.KidEdit{At: 16, E: words()}, api.KidEdit{At: 17, E: replace(t, "_", "{}")}), "s{|10:s{|},11:(_>{})}"},
+		{kids(api.KidEdit{At: 16, E: words()}, api.KidEdit{At: 17, E: replace("_", "{}")}), "s{|10:s{|},11:(_>{})}"},
 		{api.Edit{Kind: api.StructEdit, Words: []api.WordEdit{w}, Kids: []api.KidEdit{{E: list(api.Byte)}}}, "s{a:81:5:8000000000000000|0:ly[]}"},
 		{list(api.Byte, keep(2), del(atom(5)), insert(atom(6), atom(7))), "ly[k2,-y[5],+y[6,7]]"},
 		{list(api.Void, keep(api.MaxList-2), insert(atom(0))), "lv[kffffe,+v[0]]"},
 		{list(api.Bit, insert(atom(1))), "lb[+b[1]]"}, {list(api.Two, insert(atom(1))), "lt[+t[1]]"}, {list(api.Four, insert(atom(1))), "lf[+f[1]]"}, {list(api.Eight, insert(atom(1))), "le[+e[1]]"},
-		{list(api.Pointers, del(api.Tree{}, tr(t, "{1,0}")), descend(list(api.Byte, keep(1))), descend(replace(t, "_", "_"))), "lp[-p[_,{1,0}],*ly[k1],*(_>_)]"},
-		{list(api.Composite, descend(words(w)), keep(1), insert(tr(t, "{|_}"))), "lc[*s{a:81:5:8000000000000000|},k1,+c[{|_}]]"},
+		{list(api.Pointers, del(api.Tree{}, tr("{1,0}")), descend(list(api.Byte, keep(1))), descend(replace("_", "_"))), "lp[-p[_,{1,0}],*ly[k1],*(_>_)]"},
+		{list(api.Composite, descend(words(w)), keep(1), insert(tr("{|_}"))), "lc[*s{a:81:5:8000000000000000|},k1,+c[{|_}]]"},
 	} {
 		if s := etext.Print(c.e); s != c.s {
 			t.Errorf("%s is printed as %s", c.s, s)

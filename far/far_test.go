@@ -7,30 +7,11 @@ import (
 	"cento/api"
 	"cento/arena"
 	"cento/far"
-	"cento/ptr"
+	"cento/sample"
 )
 
-// w tells a pointer's word.
-func w(t *testing.T, p ptr.Ptr) uint64 {
-	t.Helper()
-	x, ok := ptr.Encode(p)
-	if !ok {
-		t.Fatalf("no word of %+v", p)
-	}
-	return x
-}
-
-func structOf(off, data, ptrs int) ptr.Ptr {
-	return ptr.Ptr{Kind: ptr.Struct, Off: off, Data: data, Ptrs: ptrs}
-}
-
-func listOf(off, code, count int) ptr.Ptr {
-	return ptr.Ptr{Kind: ptr.List, Off: off, Code: code, Count: count}
-}
-
-func farTo(segment, at int, double bool) ptr.Ptr {
-	return ptr.Ptr{Kind: ptr.Far, Segment: segment, Off: at, Double: double}
-}
+// Short forms of what the tests are written with.
+var w, structOf, listOf, farTo = sample.Pointer, sample.ToStruct, sample.ToList, sample.ToFar
 
 const other = 3
 
@@ -44,44 +25,44 @@ func TestFollow(t *testing.T) {
 		want     far.Loc
 		err      api.Errno
 	}{
-		{"example", l{{w(t, structOf(0, 1, 0)), 7}}, 0, far.Loc{P: structOf(0, 1, 0), At: 1}, api.OK},
+		{"example", l{{w(structOf(0, 1, 0)), 7}}, 0, far.Loc{P: structOf(0, 1, 0), At: 1}, api.OK},
 		{"nothing", l{{0}}, 0, far.Loc{}, api.OK},
-		{"a list", l{{0, w(t, listOf(1, 2, 9)), 0, 1, 2}}, 1, far.Loc{P: listOf(0, 2, 9), At: 3}, api.OK},
-		{"a list of structs with its tag", l{{w(t, listOf(0, 7, 1)), 0, 0}}, 0, far.Loc{P: listOf(0, 7, 1), At: 1}, api.OK},
-		{"an offset below 0", l{{5, 6, w(t, structOf(-3, 1, 1))}}, 2, far.Loc{P: structOf(0, 1, 1)}, api.OK},
-		{"a struct of nothing", l{{w(t, structOf(-1, 0, 0))}}, 0, far.Loc{P: structOf(0, 0, 0)}, api.OK},
-		{"no words at the end", l{{w(t, listOf(0, 0, 5))}}, 0, far.Loc{P: listOf(0, 0, 5), At: 1}, api.OK},
-		{"a pad", l{{w(t, farTo(1, 1, false))}, {0, w(t, structOf(0, 1, 0)), 7}}, 0, far.Loc{P: structOf(0, 1, 0), Segment: 1, At: 2}, api.OK},
-		{"a pad in the same segment", l{{w(t, farTo(0, 1, false)), w(t, listOf(0, 5, 1)), 7}}, 0, far.Loc{P: listOf(0, 5, 1), At: 2}, api.OK},
-		{"a double pad", l{{w(t, farTo(2, 1, true))}, {8, 9, 9}, {8, w(t, farTo(1, 1, false)), w(t, structOf(0, 1, 1))}}, 0, far.Loc{P: structOf(0, 1, 1), Segment: 1, At: 1}, api.OK},
+		{"a list", l{{0, w(listOf(1, 2, 9)), 0, 1, 2}}, 1, far.Loc{P: listOf(0, 2, 9), At: 3}, api.OK},
+		{"a list of structs with its tag", l{{w(listOf(0, 7, 1)), 0, 0}}, 0, far.Loc{P: listOf(0, 7, 1), At: 1}, api.OK},
+		{"an offset below 0", l{{5, 6, w(structOf(-3, 1, 1))}}, 2, far.Loc{P: structOf(0, 1, 1)}, api.OK},
+		{"a struct of nothing", l{{w(structOf(-1, 0, 0))}}, 0, far.Loc{P: structOf(0, 0, 0)}, api.OK},
+		{"no words at the end", l{{w(listOf(0, 0, 5))}}, 0, far.Loc{P: listOf(0, 0, 5), At: 1}, api.OK},
+		{"a pad", l{{w(farTo(1, 1, false))}, {0, w(structOf(0, 1, 0)), 7}}, 0, far.Loc{P: structOf(0, 1, 0), Segment: 1, At: 2}, api.OK},
+		{"a pad in the same segment", l{{w(farTo(0, 1, false)), w(listOf(0, 5, 1)), 7}}, 0, far.Loc{P: listOf(0, 5, 1), At: 2}, api.OK},
+		{"a double pad", l{{w(farTo(2, 1, true))}, {8, 9, 9}, {8, w(farTo(1, 1, false)), w(structOf(0, 1, 1))}}, 0, far.Loc{P: structOf(0, 1, 1), Segment: 1, At: 1}, api.OK},
 
 		{"behind the end", l{{0}}, 1, far.Loc{}, api.ErrBounds},
 		{"ahead of the beginning", l{{0}}, -1, far.Loc{}, api.ErrBounds},
 		{"something else", l{{other}}, 0, far.Loc{}, api.ErrCap},
-		{"a struct behind the end", l{{w(t, structOf(0, 1, 1)), 7}}, 0, far.Loc{}, api.ErrBounds},
-		{"a struct ahead of the beginning", l{{w(t, structOf(-2, 1, 0)), 7}}, 0, far.Loc{}, api.ErrBounds},
-		{"a list behind the end", l{{w(t, listOf(0, 2, 9)), 7}}, 0, far.Loc{}, api.ErrBounds},
-		{"a tag behind the end", l{{w(t, listOf(0, 7, 0))}}, 0, far.Loc{}, api.ErrBounds},
-		{"no such segment", l{{w(t, farTo(1, 0, false))}}, 0, far.Loc{}, api.ErrBounds},
-		{"a pad behind the end", l{{w(t, farTo(0, 1, false))}}, 0, far.Loc{}, api.ErrBounds},
-		{"a pad is nothing", l{{w(t, farTo(0, 1, false)), 0}}, 0, far.Loc{}, api.ErrPtr},
-		{"a pad is a far one", l{{w(t, farTo(0, 1, false)), w(t, farTo(0, 1, false))}}, 0, far.Loc{}, api.ErrPtr},
-		{"a pad is a double one", l{{w(t, farTo(0, 1, false)), w(t, farTo(0, 0, true))}}, 0, far.Loc{}, api.ErrPtr},
-		{"a pad is something else", l{{w(t, farTo(0, 1, false)), other}}, 0, far.Loc{}, api.ErrCap},
-		{"a pad points behind the end", l{{w(t, farTo(0, 1, false)), w(t, structOf(0, 1, 0))}}, 0, far.Loc{}, api.ErrBounds},
-		{"half of a double pad", l{{w(t, farTo(0, 1, true)), w(t, farTo(0, 0, false))}}, 0, far.Loc{}, api.ErrBounds},
-		{"the half of a double pad that is there is not read", l{{w(t, farTo(0, 1, true)), other}}, 0, far.Loc{}, api.ErrBounds},
-		{"a double pad begins with a struct", l{{w(t, farTo(0, 1, true)), w(t, structOf(0, 1, 0)), w(t, structOf(0, 1, 0))}}, 0, far.Loc{}, api.ErrPtr},
-		{"a double pad begins with a double one", l{{w(t, farTo(0, 1, true)), w(t, farTo(0, 0, true)), w(t, structOf(0, 1, 0))}}, 0, far.Loc{}, api.ErrPtr},
-		{"a double pad begins with something else, which is no pointer or shape", l{{w(t, farTo(0, 1, true)), other, w(t, structOf(0, 1, 0))}}, 0, far.Loc{}, api.ErrPtr},
-		{"the first word of a double pad ahead of its shape", l{{w(t, farTo(0, 1, true)), 0, other}}, 0, far.Loc{}, api.ErrPtr},
-		{"a shape is something else", l{{w(t, farTo(0, 1, true)), w(t, farTo(0, 0, false)), other}}, 0, far.Loc{}, api.ErrCap},
-		{"a shape is nothing", l{{w(t, farTo(0, 1, true)), w(t, farTo(0, 0, false)), 0}}, 0, far.Loc{}, api.ErrPtr},
-		{"a shape is a far one", l{{w(t, farTo(0, 1, true)), w(t, farTo(0, 0, false)), w(t, farTo(0, 0, false))}}, 0, far.Loc{}, api.ErrPtr},
-		{"a shape has an offset", l{{w(t, farTo(0, 1, true)), w(t, farTo(0, 0, false)), w(t, structOf(1, 1, 0))}}, 0, far.Loc{}, api.ErrPtr},
-		{"a shape's offset ahead of its bounds", l{{w(t, farTo(0, 1, true)), w(t, farTo(9, 9, false)), w(t, listOf(-1, 2, 1))}}, 0, far.Loc{}, api.ErrPtr},
-		{"what a double pad points to is not there", l{{w(t, farTo(0, 1, true)), w(t, farTo(0, 3, false)), w(t, structOf(0, 1, 0))}}, 0, far.Loc{}, api.ErrBounds},
-		{"what a double pad points to is in no segment", l{{w(t, farTo(0, 1, true)), w(t, farTo(1, 0, false)), w(t, structOf(0, 1, 0))}}, 0, far.Loc{}, api.ErrBounds},
+		{"a struct behind the end", l{{w(structOf(0, 1, 1)), 7}}, 0, far.Loc{}, api.ErrBounds},
+		{"a struct ahead of the beginning", l{{w(structOf(-2, 1, 0)), 7}}, 0, far.Loc{}, api.ErrBounds},
+		{"a list behind the end", l{{w(listOf(0, 2, 9)), 7}}, 0, far.Loc{}, api.ErrBounds},
+		{"a tag behind the end", l{{w(listOf(0, 7, 0))}}, 0, far.Loc{}, api.ErrBounds},
+		{"no such segment", l{{w(farTo(1, 0, false))}}, 0, far.Loc{}, api.ErrBounds},
+		{"a pad behind the end", l{{w(farTo(0, 1, false))}}, 0, far.Loc{}, api.ErrBounds},
+		{"a pad is nothing", l{{w(farTo(0, 1, false)), 0}}, 0, far.Loc{}, api.ErrPtr},
+		{"a pad is a far one", l{{w(farTo(0, 1, false)), w(farTo(0, 1, false))}}, 0, far.Loc{}, api.ErrPtr},
+		{"a pad is a double one", l{{w(farTo(0, 1, false)), w(farTo(0, 0, true))}}, 0, far.Loc{}, api.ErrPtr},
+		{"a pad is something else", l{{w(farTo(0, 1, false)), other}}, 0, far.Loc{}, api.ErrCap},
+		{"a pad points behind the end", l{{w(farTo(0, 1, false)), w(structOf(0, 1, 0))}}, 0, far.Loc{}, api.ErrBounds},
+		{"half of a double pad", l{{w(farTo(0, 1, true)), w(farTo(0, 0, false))}}, 0, far.Loc{}, api.ErrBounds},
+		{"the half of a double pad that is there is not read", l{{w(farTo(0, 1, true)), other}}, 0, far.Loc{}, api.ErrBounds},
+		{"a double pad begins with a struct", l{{w(farTo(0, 1, true)), w(structOf(0, 1, 0)), w(structOf(0, 1, 0))}}, 0, far.Loc{}, api.ErrPtr},
+		{"a double pad begins with a double one", l{{w(farTo(0, 1, true)), w(farTo(0, 0, true)), w(structOf(0, 1, 0))}}, 0, far.Loc{}, api.ErrPtr},
+		{"a double pad begins with something else, which is no pointer or shape", l{{w(farTo(0, 1, true)), other, w(structOf(0, 1, 0))}}, 0, far.Loc{}, api.ErrPtr},
+		{"the first word of a double pad ahead of its shape", l{{w(farTo(0, 1, true)), 0, other}}, 0, far.Loc{}, api.ErrPtr},
+		{"a shape is something else", l{{w(farTo(0, 1, true)), w(farTo(0, 0, false)), other}}, 0, far.Loc{}, api.ErrCap},
+		{"a shape is nothing", l{{w(farTo(0, 1, true)), w(farTo(0, 0, false)), 0}}, 0, far.Loc{}, api.ErrPtr},
+		{"a shape is a far one", l{{w(farTo(0, 1, true)), w(farTo(0, 0, false)), w(farTo(0, 0, false))}}, 0, far.Loc{}, api.ErrPtr},
+		{"a shape has an offset", l{{w(farTo(0, 1, true)), w(farTo(0, 0, false)), w(structOf(1, 1, 0))}}, 0, far.Loc{}, api.ErrPtr},
+		{"a shape's offset ahead of its bounds", l{{w(farTo(0, 1, true)), w(farTo(9, 9, false)), w(listOf(-1, 2, 1))}}, 0, far.Loc{}, api.ErrPtr},
+		{"what a double pad points to is not there", l{{w(farTo(0, 1, true)), w(farTo(0, 3, false)), w(structOf(0, 1, 0))}}, 0, far.Loc{}, api.ErrBounds},
+		{"what a double pad points to is in no segment", l{{w(farTo(0, 1, true)), w(farTo(1, 0, false)), w(structOf(0, 1, 0))}}, 0, far.Loc{}, api.ErrBounds},
 	} {
 		if got, err := far.Follow(arena.Of(c.segments), 0, c.at); got != c.want || err != c.err {
 			t.Errorf("%s: %+v, %d", c.name, got, err)

@@ -17,23 +17,8 @@ import (
 	"cento/tree"
 )
 
-func tr(t *testing.T, s string) api.Tree {
-	t.Helper()
-	x, err := text.Parse(s)
-	if err != api.OK {
-		t.Fatalf("%s is no tree's text", s)
-	}
-	return x
-}
-
-func ed(t *testing.T, s string) api.Edit {
-	t.Helper()
-	e, err := etext.Parse(s)
-	if err != api.OK {
-		t.Fatalf("%s is no edit's text", s)
-	}
-	return e
-}
+// Short forms of what the tests are written with.
+var tr, ed = sample.TreeOf, sample.EditOf
 
 // to tells a path of kids.
 func to(at ...int) []api.Step {
@@ -73,7 +58,7 @@ func TestWrap(t *testing.T) {
 		// It need not be defined there.
 		{"p[_]", to(0), "s{|}", "lp[*s{|}]"},
 	} {
-		got, ok := focus.Wrap(tr(t, c.t), c.l, ed(t, c.e))
+		got, ok := focus.Wrap(tr(c.t), c.l, ed(c.e))
 		if !ok || etext.Print(got) != c.want {
 			t.Errorf("%s, %v, %s: %s, %v, not %s", c.t, c.l, c.e, etext.Print(got), ok, c.want)
 		}
@@ -92,7 +77,7 @@ func TestWrapRefuses(t *testing.T) {
 		{"y[1]", to(0), "="}, {"y[1]", to(0), "(_>{})"}, {"y[1]", to(0, 0), "="}, {"{|y[1]}", to(0, 0), "s{|}"},
 		{"c[{}]", to(0), "({}>_)"}, {"c[{}]", to(0), "ly[]"}, {"c[{}]", to(0), "(_>{})"}, {"{|c[{}]}", to(0, 0), "({}>y[1])"},
 	} {
-		if got, ok := focus.Wrap(tr(t, c.t), c.l, ed(t, c.e)); ok || !edit.Equal(got, api.Edit{}) {
+		if got, ok := focus.Wrap(tr(c.t), c.l, ed(c.e)); ok || !edit.Equal(got, api.Edit{}) {
 			t.Errorf("%s, %v, %s: %s", c.t, c.l, c.e, etext.Print(got))
 		}
 	}
@@ -104,10 +89,10 @@ func TestWrapRefuses(t *testing.T) {
 		deep = api.Tree{Kind: api.Struct, Kids: []api.Tree{deep}}
 		l = append(l, to(0)...)
 	}
-	if _, ok := focus.Wrap(deep, l[:63], ed(t, "s{|}")); !ok {
+	if _, ok := focus.Wrap(deep, l[:63], ed("s{|}")); !ok {
 		t.Error("64 edits within one another are refused")
 	}
-	if _, ok := focus.Wrap(deep, l, ed(t, "(_>{})")); ok {
+	if _, ok := focus.Wrap(deep, l, ed("(_>{})")); ok {
 		t.Error("65 edits within one another are taken")
 	}
 	if e, ok := focus.Wrap(deep, l, api.Edit{}); !ok || e.Kind != api.Same {
@@ -130,7 +115,7 @@ func TestNarrow(t *testing.T) {
 		{"s{|2:lp[+p[_],*lc[k1,*s{0:1:1:2|}]]}", to(2, 0, 1), "s{0:1:1:2|}", to(2, 1, 1)}, {"s{|2:lp[+p[_],*lc[k1,*s{0:1:1:2|}]]}", to(2, 0), "lc[k1,*s{0:1:1:2|}]", to(2, 1)},
 		{"lp[*ly[k1,k1]]", to(0), "ly[k2]", to(0)}, {"lp[*(_>{})]", to(0), "(_>{})", to(0)},
 	} {
-		got, at, ok := focus.Narrow(ed(t, c.e), c.l)
+		got, at, ok := focus.Narrow(ed(c.e), c.l)
 		if !ok || etext.Print(got) != c.want || !slices.Equal(at, c.at) {
 			t.Errorf("%s, %v: %s, %v, %v, not %s, %v", c.e, c.l, etext.Print(got), at, ok, c.want, c.at)
 		}
@@ -143,7 +128,7 @@ func TestNarrow(t *testing.T) {
 		{"(_>{})", to(0)}, {"({}>{})", to(0, 0)}, {"s{|}", to(-1)}, {"s{|}", []api.Step{{Kind: api.Word}}}, {"s{|1:(_>{})}", to(1, 0)},
 		{"lp[]", to(0)}, {"lp[k1]", to(1)}, {"lp[k1]", to(math.MaxInt)}, {"lp[k1]", to(-1)}, {"lp[+p[_]]", to(0)}, {"lp[-p[_,_],k1]", to(0)}, {"lp[-p[_,_],k1]", to(1)}, {"lp[-p[_,_],k1]", to(3)}, {"lp[k1]", []api.Step{{Kind: api.Gap}}}, {"lp[*(_>{})]", to(0, 0)}, {"lp[k1,-p[{}]]", to(1, 0)},
 	} {
-		if got, at, ok := focus.Narrow(ed(t, c.e), c.l); ok || len(at) != 0 || !edit.Equal(got, api.Edit{}) {
+		if got, at, ok := focus.Narrow(ed(c.e), c.l); ok || len(at) != 0 || !edit.Equal(got, api.Edit{}) {
 			t.Errorf("%s, %v: %s, %v", c.e, c.l, etext.Print(got), at)
 		}
 	}

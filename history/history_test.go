@@ -14,27 +14,12 @@ import (
 	"cento/tree"
 )
 
-func tr(t *testing.T, s string) api.Tree {
-	t.Helper()
-	x, err := text.Parse(s)
-	if err != api.OK {
-		t.Fatalf("%s is no tree's text", s)
-	}
-	return x
-}
-
-func ed(t *testing.T, s string) api.Edit {
-	t.Helper()
-	e, err := etext.Parse(s)
-	if err != api.OK {
-		t.Fatalf("%s is no edit's text", s)
-	}
-	return e
-}
+// Short forms of what the tests are written with.
+var tr, ed = sample.TreeOf, sample.EditOf
 
 func do(t *testing.T, h *history.History, s string, want api.Errno) {
 	t.Helper()
-	if err := h.Do(ed(t, s)); err != want {
+	if err := h.Do(ed(s)); err != want {
 		t.Errorf("Do(%s): %d, not %d", s, err, want)
 	}
 }
@@ -78,7 +63,7 @@ func squash(t *testing.T, h *history.History, want string) {
 
 // 42.1
 func TestNew(t *testing.T) {
-	h := history.New(tr(t, "{1,0|_}"))
+	h := history.New(tr("{1,0|_}"))
 	is(t, h, "{1}", 0, 0)
 	squash(t, h, "=")
 	undo(t, h, false)
@@ -98,7 +83,7 @@ func TestNew(t *testing.T) {
 
 // 42.2
 func TestDoUndoRedo(t *testing.T) {
-	h := history.New(tr(t, "{1}"))
+	h := history.New(tr("{1}"))
 	do(t, h, "s{0:1:1:2|}", api.OK)
 	is(t, h, "{2}", 1, 0)
 	do(t, h, "s{0:1:1:3|}", api.ErrMismatch)
@@ -133,7 +118,7 @@ func TestDoUndoRedo(t *testing.T) {
 
 // 42.2
 func TestDoRefuses(t *testing.T) {
-	h := history.New(tr(t, "{1}"))
+	h := history.New(tr("{1}"))
 	do(t, h, "s{0:1:1:2|}", api.OK)
 	undo(t, h, true)
 	for _, e := range []api.Edit{{Kind: 4}, {List: 4}, {Kind: api.StructEdit, Words: []api.WordEdit{{At: 0}}}} {
@@ -158,7 +143,7 @@ func TestDoRefuses(t *testing.T) {
 
 // 42.3
 func TestDrop(t *testing.T) {
-	h := history.New(tr(t, "{1,1,1}"))
+	h := history.New(tr("{1,1,1}"))
 	do(t, h, "s{0:1:1:2|}", api.OK)
 	do(t, h, "s{1:1:1:3|}", api.OK)
 	do(t, h, "s{2:1:1:4|}", api.OK)
@@ -175,14 +160,14 @@ func TestDrop(t *testing.T) {
 	drop(t, h, 0, api.OK)
 	is(t, h, "{1,1,1}", 0, 0)
 
-	h = history.New(tr(t, "y[1,2,3]"))
+	h = history.New(tr("y[1,2,3]"))
 	do(t, h, "ly[k1,+y[9,8],k2]", api.OK)
 	do(t, h, "ly[k5,+y[7]]", api.OK)
 	drop(t, h, 0, api.OK)
 	is(t, h, "y[1,2,3,7]", 1, 0)
 	squash(t, h, "ly[k3,+y[7]]")
 
-	h = history.New(tr(t, "{1}"))
+	h = history.New(tr("{1}"))
 	do(t, h, "s{0:1:1:2|}", api.OK)
 	do(t, h, "s{0:1:2:3|}", api.OK)
 	undo(t, h, true)
@@ -193,7 +178,7 @@ func TestDrop(t *testing.T) {
 	drop(t, h, 1, api.OK)
 	is(t, h, "{2}", 1, 0)
 
-	h = history.New(tr(t, "{1}"))
+	h = history.New(tr("{1}"))
 	do(t, h, "s{0:1:1:2|}", api.OK)
 	do(t, h, "s{0:1:2:1|}", api.OK)
 	// The second one does what the first one turned round does: nothing of both is left.

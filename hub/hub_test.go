@@ -14,23 +14,8 @@ import (
 	"cento/tree"
 )
 
-func tr(t *testing.T, s string) api.Tree {
-	t.Helper()
-	x, err := text.Parse(s)
-	if err != api.OK {
-		t.Fatalf("%s is no tree's text", s)
-	}
-	return x
-}
-
-func ed(t *testing.T, s string) api.Edit {
-	t.Helper()
-	e, err := etext.Parse(s)
-	if err != api.OK {
-		t.Fatalf("%s is no edit's text", s)
-	}
-	return e
-}
+// Short forms of what the tests are written with.
+var tr, ed = sample.TreeOf, sample.EditOf
 
 func hubIs(t *testing.T, h *hub.Hub, now string, version int) {
 	t.Helper()
@@ -48,7 +33,7 @@ func deskIs(t *testing.T, d *hub.Desk, now string, version int, unsent string) {
 
 func push(t *testing.T, h *hub.Hub, version int, e string, want int, wantErr api.Errno) {
 	t.Helper()
-	if v, err := h.Push(version, ed(t, e)); v != want || err != wantErr {
+	if v, err := h.Push(version, ed(e)); v != want || err != wantErr {
 		t.Errorf("Push(%d, %s): %d, %d, not %d, %d", version, e, v, err, want, wantErr)
 	}
 }
@@ -67,7 +52,7 @@ func pull(t *testing.T, h *hub.Hub, version int, want ...string) {
 
 func do(t *testing.T, d *hub.Desk, e string, want api.Errno) {
 	t.Helper()
-	if err := d.Do(ed(t, e)); err != want {
+	if err := d.Do(ed(e)); err != want {
 		t.Errorf("Do(%s): %d, not %d", e, err, want)
 	}
 }
@@ -86,18 +71,9 @@ func reset(t *testing.T, d *hub.Desk, h *hub.Hub, want api.Errno) {
 	}
 }
 
-// deep tells n structs within one another.
-func deep(n int) api.Tree {
-	x := api.Tree{}
-	for range n {
-		x = api.Tree{Kind: api.Struct, Kids: []api.Tree{x}}
-	}
-	return x
-}
-
 // grow makes what is no kid 64 structs within one another.
 func grow() api.Edit {
-	return api.Edit{Kind: api.StructEdit, Kids: []api.KidEdit{{At: 0, E: api.Edit{Kind: api.Replace, New: deep(64)}}}}
+	return api.Edit{Kind: api.StructEdit, Kids: []api.KidEdit{{At: 0, E: api.Edit{Kind: api.Replace, New: sample.Nested(64)}}}}
 }
 
 // wrong are edits that are not right.
@@ -107,7 +83,7 @@ func wrong() []api.Edit {
 
 // 43.1
 func TestHub(t *testing.T) {
-	h := hub.New(tr(t, "{1,1,0|_}"))
+	h := hub.New(tr("{1,1,0|_}"))
 	hubIs(t, h, "{1,1}", 0)
 	pull(t, h, 0)
 	push(t, h, 0, "s{0:1:1:2|}", 1, api.OK)
@@ -144,7 +120,7 @@ func TestHub(t *testing.T) {
 	}
 	hubIs(t, h, "{102,3}", 5)
 	// It is as it is written that an edit is in the log.
-	h = hub.New(tr(t, "y[1]"))
+	h = hub.New(tr("y[1]"))
 	push(t, h, 0, "ly[+y[2],-y[1]]", 1, api.OK)
 	pull(t, h, 0, "ly[-y[1],+y[2]]")
 }
@@ -154,7 +130,7 @@ func TestNew(t *testing.T) {
 	for name, x := range map[string]api.Tree{
 		"an atom":           {Kind: api.Atom, Words: []uint64{1}},
 		"what is not right": {Kind: api.Bit, Kids: []api.Tree{{Kind: api.Atom, Words: []uint64{2}}}},
-		"what is too deep":  deep(65),
+		"what is too deep":  sample.Nested(65),
 	} {
 		if hub.New(x) != nil {
 			t.Errorf("%s has a hub", name)
@@ -165,7 +141,7 @@ func TestNew(t *testing.T) {
 
 // 43.2
 func TestDesk(t *testing.T) {
-	h := hub.New(tr(t, "{1,1}"))
+	h := hub.New(tr("{1,1}"))
 	push(t, h, 0, "s{0:1:1:2|}", 1, api.OK)
 	d := hub.Open(h)
 	deskIs(t, d, "{2,1}", 1, "=")
@@ -191,7 +167,7 @@ func TestDesk(t *testing.T) {
 
 // 43.3
 func TestSync(t *testing.T) {
-	h := hub.New(tr(t, "{1,1}"))
+	h := hub.New(tr("{1,1}"))
 	a, b := hub.Open(h), hub.Open(h)
 	do(t, a, "s{0:1:1:2|}", api.OK)
 	do(t, b, "s{1:1:1:3|}", api.OK)
@@ -225,7 +201,7 @@ func TestSync(t *testing.T) {
 	sync(t, b, h, api.OK)
 
 	// At another hub its version may not be; or what it did is apart from what that has.
-	other := hub.New(tr(t, "y[1]"))
+	other := hub.New(tr("y[1]"))
 	sync(t, b, other, api.ErrArg)
 	c := hub.Open(other)
 	do(t, c, "ly[+y[2],k1]", api.OK)
@@ -252,7 +228,7 @@ func TestNil(t *testing.T) {
 	}
 	deskIs(t, d, "_", 0, "=")
 	do(t, d, "=", api.ErrNil)
-	there := hub.New(tr(t, "{1}"))
+	there := hub.New(tr("{1}"))
 	sync(t, d, there, api.ErrNil)
 	sync(t, d, h, api.ErrNil)
 	reset(t, d, there, api.ErrNil)
@@ -353,7 +329,7 @@ func TestWhoeverIsFirst(t *testing.T) {
 
 // R4
 func TestTheLogIsNotShared(t *testing.T) {
-	h := hub.New(tr(t, "{1}"))
+	h := hub.New(tr("{1}"))
 	push(t, h, 0, "s{0:1:1:2|}", 1, api.OK)
 	l, _ := h.Pull(0)
 	l[0] = api.Edit{Kind: 4}

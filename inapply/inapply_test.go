@@ -5,7 +5,6 @@ import (
 
 	"cento/api"
 	"cento/apply"
-	"cento/arena"
 	"cento/build"
 	"cento/inapply"
 	"cento/reader"
@@ -14,14 +13,12 @@ import (
 	"cento/tree"
 )
 
-func root(t *testing.T, a *arena.Arena) reader.Ref {
-	t.Helper()
-	r, err := reader.Root(a)
-	if err != api.OK {
-		t.Fatal(err)
-	}
-	return r
-}
+// Short forms of what the tests are written with.
+var (
+	tr, replace, list, keep     = sample.TreeOf, sample.Replace, sample.Ops, sample.Keep
+	del, insert, descend, words = sample.Delete, sample.Insert, sample.Descend, sample.Words
+	kids, atom                  = sample.Kids, sample.Number
+)
 
 // values tells the value of a tree in two messages: one in which nothing is trimmed, and one of several segments.
 func values(t *testing.T, x api.Tree) []reader.Ref {
@@ -30,36 +27,8 @@ func values(t *testing.T, x api.Tree) []reader.Ref {
 	if !ok {
 		t.Fatalf("%s: there is no room", text.Print(x))
 	}
-	return []reader.Ref{root(t, arena.Of([][]uint64{sample.Message(x)})), root(t, a)}
+	return []reader.Ref{sample.Value(x), sample.Root(a)}
 }
-
-func tr(t *testing.T, s string) api.Tree {
-	t.Helper()
-	x, err := text.Parse(s)
-	if err != api.OK {
-		t.Fatalf("%s is no tree's text", s)
-	}
-	return x
-}
-
-func replace(t *testing.T, old, now string) api.Edit {
-	t.Helper()
-	return api.Edit{Kind: api.Replace, Old: tr(t, old), New: tr(t, now)}
-}
-
-func list(kind int, ops ...api.Op) api.Edit {
-	return api.Edit{Kind: api.ListEdit, List: kind, Ops: ops}
-}
-
-func keep(n int) api.Op           { return api.Op{Kind: api.Keep, N: n} }
-func del(l ...api.Tree) api.Op    { return api.Op{Kind: api.Delete, L: l} }
-func insert(l ...api.Tree) api.Op { return api.Op{Kind: api.Insert, L: l} }
-func descend(e api.Edit) api.Op   { return api.Op{Kind: api.Descend, E: e} }
-
-func words(l ...api.WordEdit) api.Edit { return api.Edit{Kind: api.StructEdit, Words: l} }
-func kids(l ...api.KidEdit) api.Edit   { return api.Edit{Kind: api.StructEdit, Kids: l} }
-
-func atom(n uint64) api.Tree { return api.Tree{Kind: api.Atom, Words: []uint64{n}} }
 
 // checkMeans holds what is said of a value against the trees.
 func checkMeans(t *testing.T, x, y api.Tree) {
@@ -79,14 +48,14 @@ func TestMeans(t *testing.T) {
 	}
 	for _, a := range texts {
 		for _, b := range texts {
-			checkMeans(t, tr(t, a), tr(t, b))
+			checkMeans(t, tr(a), tr(b))
 		}
 	}
-	k, _ := values(t, tr(t, "y[5]"))[0].Kid(0)
+	k, _ := values(t, tr("y[5]"))[0].Kid(0)
 	for _, c := range []struct {
 		x    api.Tree
 		want bool
-	}{{atom(5), true}, {atom(6), false}, {api.Tree{}, false}, {tr(t, "{5}"), false}} {
+	}{{atom(5), true}, {atom(6), false}, {api.Tree{}, false}, {tr("{5}"), false}} {
 		if got, err := inapply.Means(k, c.x); got != c.want || err != api.OK {
 			t.Errorf("an atom, and %+v: %v, %d", c.x, got, err)
 		}
@@ -122,17 +91,17 @@ func TestEdit(t *testing.T) {
 		want bool
 	}{
 		{api.Edit{}, "{1,0|y[5],_}", true}, {api.Edit{}, "_", true},
-		{replace(t, "_", "{}"), "{}", false}, {replace(t, "{1,0}", "y[5]"), "{1|_}", true}, {replace(t, "_", "{1,0|_}"), "_", true}, {replace(t, "{1}", "_"), "{2}", false},
+		{replace("_", "{}"), "{}", false}, {replace("{1,0}", "y[5]"), "{1|_}", true}, {replace("_", "{1,0|_}"), "_", true}, {replace("{1}", "_"), "{2}", false},
 		{w, "{5}", true}, {w, "{7}", false}, {w, "{1105,2}", true}, {w, "{}", false}, {w, "y[5]", false}, {w, "_", false}, {words(), "{1,0|_}", true}, {words(), "_", false}, {words(), "c[]", false},
 		{words(api.WordEdit{At: 3, Mask: 1, New: 7}), "{1}", true}, {words(api.WordEdit{At: 1, Mask: 1, Old: 7}), "{1,7}", true}, {words(api.WordEdit{At: 65534, Mask: 1}), "{1}", true},
-		{kids(at(1, w)), "{|_,{5}}", true}, {kids(at(1, w)), "{|{5},_}", false}, {kids(at(2, replace(t, "_", "{1}"))), "{}", true}, {kids(at(2, w)), "{}", false}, {kids(at(1, replace(t, "{1}", "_"))), "{|y[],{1}}", true},
-		{kids(at(65534, replace(t, "_", "_"))), "{}", true}, {kids(at(0, w), at(2, w), at(5, replace(t, "_", "{}")), at(7, replace(t, "_", "_")), at(8, replace(t, "_", "y[]"))), "{|{5},y[1],{5}}", true},
+		{kids(at(1, w)), "{|_,{5}}", true}, {kids(at(1, w)), "{|{5},_}", false}, {kids(at(2, replace("_", "{1}"))), "{}", true}, {kids(at(2, w)), "{}", false}, {kids(at(1, replace("{1}", "_"))), "{|y[],{1}}", true},
+		{kids(at(65534, replace("_", "_"))), "{}", true}, {kids(at(0, w), at(2, w), at(5, replace("_", "{}")), at(7, replace("_", "_")), at(8, replace("_", "y[]"))), "{|{5},y[1],{5}}", true},
 		{list(api.Byte, keep(2), del(atom(5)), insert(atom(6), atom(7))), "y[1,2,5]", true}, {list(api.Byte, keep(2)), "y[1]", false}, {list(api.Byte, keep(2)), "y[1,2,3]", false}, {list(api.Byte, keep(2)), "t[1,2]", false},
 		{list(api.Byte), "{}", false}, {list(api.Byte), "y[]", true}, {list(api.Byte), "y[1]", false}, {list(api.Byte, del(atom(2), atom(1))), "y[1,2]", false}, {list(api.Byte, del(atom(1), atom(2))), "y[1]", false},
-		{list(api.Pointers, del(tr(t, "{1,0}"), tr(t, "_"))), "p[{1|_},_]", true}, {list(api.Pointers, del(tr(t, "{}"))), "p[_]", false}, {list(api.Composite, keep(1), descend(w)), "c[{5},{5,1}]", true},
-		{list(api.Composite, descend(w), keep(1)), "c[{4},{5}]", false}, {list(api.Composite, keep(1), descend(w)), "c[{5}]", false}, {list(api.Pointers, descend(replace(t, "_", "y[1]"))), "p[_]", true},
+		{list(api.Pointers, del(tr("{1,0}"), tr("_"))), "p[{1|_},_]", true}, {list(api.Pointers, del(tr("{}"))), "p[_]", false}, {list(api.Composite, keep(1), descend(w)), "c[{5},{5,1}]", true},
+		{list(api.Composite, descend(w), keep(1)), "c[{4},{5}]", false}, {list(api.Composite, keep(1), descend(w)), "c[{5}]", false}, {list(api.Pointers, descend(replace("_", "y[1]"))), "p[_]", true},
 	} {
-		if ok := check(t, c.e, tr(t, c.t)); ok != c.want {
+		if ok := check(t, c.e, tr(c.t)); ok != c.want {
 			t.Errorf("%s by %+v: %v", c.t, c.e, ok)
 		}
 	}

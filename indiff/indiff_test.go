@@ -4,7 +4,6 @@ import (
 	"testing"
 
 	"cento/api"
-	"cento/arena"
 	"cento/build"
 	"cento/diff"
 	"cento/edit"
@@ -16,26 +15,17 @@ import (
 	"cento/tree"
 )
 
-func root(t *testing.T, a *arena.Arena) reader.Ref {
-	t.Helper()
-	r, err := reader.Root(a)
-	if err != api.OK {
-		t.Fatal(err)
-	}
-	return r
-}
-
 // value tells the value of a tree in a message: in which nothing is trimmed, or of several segments.
 func value(t *testing.T, x api.Tree, several bool) reader.Ref {
 	t.Helper()
 	if !several {
-		return root(t, arena.Of([][]uint64{sample.Message(x)}))
+		return sample.Value(x)
 	}
 	a, ok := build.Build(x, 3, api.MaxOut)
 	if !ok {
 		t.Fatalf("%s: there is no room", text.Print(x))
 	}
-	return root(t, a)
+	return sample.Root(a)
 }
 
 // check holds the edit between values against the one between the trees that they mean.

@@ -5,7 +5,6 @@ import (
 	"testing"
 
 	"cento/api"
-	"cento/arena"
 	"cento/intern"
 	"cento/reader"
 	"cento/sample"
@@ -13,27 +12,9 @@ import (
 	"cento/tree"
 )
 
-func value(t *testing.T, x api.Tree) reader.Ref {
-	t.Helper()
-	r, err := reader.Root(arena.Of([][]uint64{sample.Message(x)}))
-	if err != api.OK {
-		t.Fatal(err)
-	}
-	return r
-}
-
-func of(t *testing.T, s string) reader.Ref {
-	t.Helper()
-	x, err := text.Parse(s)
-	if err != api.OK {
-		t.Fatalf("%s is no tree's text", s)
-	}
-	return value(t, x)
-}
-
 func class(t *testing.T, table *intern.Table, s string, want, classes int) {
 	t.Helper()
-	if n, err := table.Class(of(t, s)); n != want || err != api.OK || table.Len() != classes {
+	if n, err := table.Class(sample.ValueOf(s)); n != want || err != api.OK || table.Len() != classes {
 		t.Errorf("%s: class %d of %d, %d, not %d of %d", s, n, table.Len(), err, want, classes)
 	}
 }
@@ -76,7 +57,7 @@ func TestKids(t *testing.T) {
 		{"_", nil, 7},
 		{"y[]", nil, 7},
 	} {
-		if l, err := table.Kids(of(t, c.s)); err != api.OK || !slices.Equal(l, c.want) || table.Len() != c.classes {
+		if l, err := table.Kids(sample.ValueOf(c.s)); err != api.OK || !slices.Equal(l, c.want) || table.Len() != c.classes {
 			t.Errorf("%s: %v of %d, %d", c.s, l, table.Len(), err)
 		}
 	}
@@ -88,7 +69,7 @@ func TestTwoHaveOneClassJustIfTheyMeanTheSame(t *testing.T) {
 	var firsts []api.Tree
 	for seed := range 3000 {
 		x := sample.From(seed).Tree(3)
-		n, err := table.Class(value(t, x))
+		n, err := table.Class(sample.Value(x))
 		if err != api.OK || n > len(firsts) {
 			t.Fatalf("%s: class %d, %d", text.Print(x), n, err)
 		}
@@ -117,7 +98,7 @@ func TestManyClasses(t *testing.T) {
 	}
 	table := intern.New()
 	for range 2 {
-		l, err := table.Kids(value(t, list))
+		l, err := table.Kids(sample.Value(list))
 		if err != api.OK || table.Len() != 5000 {
 			t.Fatalf("%d classes, %d", table.Len(), err)
 		}
@@ -135,16 +116,16 @@ func TestNil(t *testing.T) {
 	if table.Len() != 0 {
 		t.Error("Len")
 	}
-	if n, err := table.Class(of(t, "{5}")); n != 0 || err != api.ErrNil {
+	if n, err := table.Class(sample.ValueOf("{5}")); n != 0 || err != api.ErrNil {
 		t.Errorf("Class: %d, %d", n, err)
 	}
 	if n, err := table.Class(reader.Ref{}); n != 0 || err != api.ErrNil {
 		t.Errorf("Class of nothing: %d, %d", n, err)
 	}
-	if l, err := table.Kids(of(t, "y[5]")); len(l) != 0 || err != api.ErrNil {
+	if l, err := table.Kids(sample.ValueOf("y[5]")); len(l) != 0 || err != api.ErrNil {
 		t.Errorf("Kids: %v, %d", l, err)
 	}
-	if l, err := table.Kids(of(t, "{5}")); len(l) != 0 || err != api.OK {
+	if l, err := table.Kids(sample.ValueOf("{5}")); len(l) != 0 || err != api.OK {
 		t.Errorf("Kids of none: %v, %d", l, err)
 	}
 	if table.Len() != 0 {

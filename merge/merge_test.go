@@ -16,32 +16,12 @@ import (
 	"cento/tree"
 )
 
-func tr(t *testing.T, s string) api.Tree {
-	t.Helper()
-	x, err := text.Parse(s)
-	if err != api.OK {
-		t.Fatalf("%s is no tree's text", s)
-	}
-	return x
-}
-
-func list(kind int, ops ...api.Op) api.Edit {
-	return api.Edit{Kind: api.ListEdit, List: kind, Ops: ops}
-}
-
-func keep(n int) api.Op           { return api.Op{Kind: api.Keep, N: n} }
-func del(l ...api.Tree) api.Op    { return api.Op{Kind: api.Delete, L: l} }
-func insert(l ...api.Tree) api.Op { return api.Op{Kind: api.Insert, L: l} }
-func descend(e api.Edit) api.Op   { return api.Op{Kind: api.Descend, E: e} }
-
-func words(l ...api.WordEdit) api.Edit { return api.Edit{Kind: api.StructEdit, Words: l} }
-
-// word tells an edit of the lowest byte of the word 0.
-func word(old, now uint64) api.Edit {
-	return words(api.WordEdit{Mask: 1, Old: old, New: now})
-}
-
-func atom(n uint64) api.Tree { return api.Tree{Kind: api.Atom, Words: []uint64{n}} }
+// Short forms of what the tests are written with.
+var (
+	tr, list, keep, del          = sample.TreeOf, sample.Ops, sample.Keep, sample.Delete
+	insert, descend, words, word = sample.Insert, sample.Descend, sample.Words, sample.Byte
+	atom                         = sample.Number
+)
 
 // shown tells conflicts: the path, the base, and what each side wants.
 func shown(l []api.Conflict) string {
@@ -101,11 +81,11 @@ func TestTrees(t *testing.T) {
 		{"p[p[_]]", "p[p[_,{1}]]", "p[p[_,{2}]]", "p[p[_]]", "k0g1 p[] p[{1}] p[{2}]; "},
 		{"{1|c[{5|y[1]}]}", "{2|c[{5|y[2]}]}", "{3|c[{5|y[3]}]}", "{1|c[{5|y[]}]}", "w0 {1} {2} {3}; k0k0k0g1 y[] y[2] y[3]; "},
 	} {
-		got, l := merge.Trees(tr(t, c.o), tr(t, c.x), tr(t, c.y), 100)
+		got, l := merge.Trees(tr(c.o), tr(c.x), tr(c.y), 100)
 		if text.Print(got) != c.want || shown(l) != c.conflicts {
 			t.Errorf("%s, %s, %s: %s, %s, not %s, %s", c.o, c.x, c.y, text.Print(got), shown(l), c.want, c.conflicts)
 		}
-		back, l := merge.Trees(tr(t, c.o), tr(t, c.y), tr(t, c.x), 100)
+		back, l := merge.Trees(tr(c.o), tr(c.y), tr(c.x), 100)
 		if text.Print(back) != c.want || shown(turned(l)) != c.conflicts {
 			t.Errorf("%s, %s, %s: %s, %s", c.o, c.y, c.x, text.Print(back), shown(l))
 		}
@@ -128,18 +108,18 @@ func TestEdits(t *testing.T) {
 		{"y[1]", list(api.Byte, insert(two), del(one)), list(api.Byte, del(one), insert(two)), "y[2,2]", ""},
 		{"y[1,2]", list(api.Byte, insert(three), keep(2), insert(three)), list(api.Byte, insert(four), keep(1), del(two), insert(four)), "y[1]", "g0 y[] y[3] y[4]; g2 y[] y[3] y[4]; "},
 		{"y[1,2]", list(api.Byte, keep(1), insert(three), keep(1)), list(api.Byte, del(one), insert(four), del(two)), "y[]", "g1 y[] y[3] y[4]; "},
-		{"c[{1},{1}]", list(api.Composite, insert(tr(t, "{3}")), descend(word(1, 2)), del(tr(t, "{1,0}"))), list(api.Composite, insert(tr(t, "{4,0}")), del(tr(t, "{1}")), descend(word(1, 5))), "c[{1},{1}]", "g0 c[] c[{3}] c[{4}]; k0 {1} {2} _; k1 {1} _ {5}; "},
+		{"c[{1},{1}]", list(api.Composite, insert(tr("{3}")), descend(word(1, 2)), del(tr("{1,0}"))), list(api.Composite, insert(tr("{4,0}")), del(tr("{1}")), descend(word(1, 5))), "c[{1},{1}]", "g0 c[] c[{3}] c[{4}]; k0 {1} {2} _; k1 {1} _ {5}; "},
 		{"c[{1},{1}]", list(api.Composite, keep(1), descend(words())), list(api.Composite, descend(words()), keep(1)), "c[{1},{1}]", ""},
-		{"c[{1}]", list(api.Composite, del(tr(t, "{1}"))), list(api.Composite, descend(words())), "c[{1}]", "k0 {1} _ {1}; "},
-		{"{1}", api.Edit{Kind: api.Replace, Old: tr(t, "{1}"), New: tr(t, "{2,0}")}, word(1, 2), "{2}", ""},
-		{"{1}", api.Edit{Kind: api.Replace, Old: tr(t, "{1}"), New: tr(t, "{2,0}")}, words(), "{1}", " {1} {2} {1}; "},
-		{"p[_]", api.Edit{Kind: api.Replace, Old: tr(t, "p[_]"), New: tr(t, "p[]")}, list(api.Pointers, del(api.Tree{})), "p[]", ""},
+		{"c[{1}]", list(api.Composite, del(tr("{1}"))), list(api.Composite, descend(words())), "c[{1}]", "k0 {1} _ {1}; "},
+		{"{1}", api.Edit{Kind: api.Replace, Old: tr("{1}"), New: tr("{2,0}")}, word(1, 2), "{2}", ""},
+		{"{1}", api.Edit{Kind: api.Replace, Old: tr("{1}"), New: tr("{2,0}")}, words(), "{1}", " {1} {2} {1}; "},
+		{"p[_]", api.Edit{Kind: api.Replace, Old: tr("p[_]"), New: tr("p[]")}, list(api.Pointers, del(api.Tree{})), "p[]", ""},
 	} {
-		got, l, ok := merge.Edits(tr(t, c.o), c.p, c.q)
+		got, l, ok := merge.Edits(tr(c.o), c.p, c.q)
 		if !ok || text.Print(got) != c.want || shown(l) != c.conflicts {
 			t.Errorf("%s, %+v, %+v: %s, %s, %v, not %s, %s", c.o, c.p, c.q, text.Print(got), shown(l), ok, c.want, c.conflicts)
 		}
-		back, l, ok := merge.Edits(tr(t, c.o), c.q, c.p)
+		back, l, ok := merge.Edits(tr(c.o), c.q, c.p)
 		if !ok || text.Print(back) != c.want || shown(turned(l)) != c.conflicts {
 			t.Errorf("%s, %+v, %+v: %s, %s, %v", c.o, c.q, c.p, text.Print(back), shown(l), ok)
 		}
@@ -153,9 +133,9 @@ func TestNotDefined(t *testing.T) {
 		p, q api.Edit
 	}{
 		{"{1}", word(2, 3), api.Edit{}}, {"{1}", api.Edit{}, word(2, 3)}, {"{1}", word(1, 2), word(2, 3)}, {"{1}", list(api.Byte), words()}, {"y[1]", list(api.Byte, keep(1)), list(api.Byte, keep(2))},
-		{"_", words(), words()}, {"_", api.Edit{Kind: api.Replace, Old: tr(t, "{}")}, api.Edit{}},
+		{"_", words(), words()}, {"_", api.Edit{Kind: api.Replace, Old: tr("{}")}, api.Edit{}},
 	} {
-		if got, l, ok := merge.Edits(tr(t, c.o), c.p, c.q); ok || len(l) > 0 || got.Kind != 0 || len(got.Words)+len(got.Kids) > 0 {
+		if got, l, ok := merge.Edits(tr(c.o), c.p, c.q); ok || len(l) > 0 || got.Kind != 0 || len(got.Words)+len(got.Kids) > 0 {
 			t.Errorf("%s, %+v, %+v: %s, %s, %v", c.o, c.p, c.q, text.Print(got), shown(l), ok)
 		}
 	}
@@ -242,7 +222,7 @@ func by(t *testing.T, e api.Edit, x api.Tree) api.Tree {
 
 // R4
 func TestNoTwoPathsShareMemory(t *testing.T) {
-	_, l := merge.Trees(tr(t, "{|{|{1,1},{1}}}"), tr(t, "{|{|{2,2},{2}}}"), tr(t, "{|{|{3,3},{3}}}"), 100)
+	_, l := merge.Trees(tr("{|{|{1,1},{1}}}"), tr("{|{|{2,2},{2}}}"), tr("{|{|{3,3},{3}}}"), 100)
 	want := shown(l)
 	for _, c := range l {
 		_ = append(c.Path, api.Step{Kind: 2, At: 9})

@@ -12,33 +12,12 @@ import (
 	"cento/text"
 )
 
-func tr(t *testing.T, s string) api.Tree {
-	t.Helper()
-	x, err := text.Parse(s)
-	if err != api.OK {
-		t.Fatalf("%s is no tree's text", s)
-	}
-	return x
-}
-
-func replace(t *testing.T, old, now string) api.Edit {
-	t.Helper()
-	return api.Edit{Kind: api.Replace, Old: tr(t, old), New: tr(t, now)}
-}
-
-func list(kind int, ops ...api.Op) api.Edit {
-	return api.Edit{Kind: api.ListEdit, List: kind, Ops: ops}
-}
-
-func keep(n int) api.Op           { return api.Op{Kind: api.Keep, N: n} }
-func del(l ...api.Tree) api.Op    { return api.Op{Kind: api.Delete, L: l} }
-func insert(l ...api.Tree) api.Op { return api.Op{Kind: api.Insert, L: l} }
-func descend(e api.Edit) api.Op   { return api.Op{Kind: api.Descend, E: e} }
-
-func words(l ...api.WordEdit) api.Edit { return api.Edit{Kind: api.StructEdit, Words: l} }
-func kids(l ...api.KidEdit) api.Edit   { return api.Edit{Kind: api.StructEdit, Kids: l} }
-
-func atom(n uint64) api.Tree { return api.Tree{Kind: api.Atom, Words: []uint64{n}} }
+// Short forms of what the tests are written with.
+var (
+	tr, replace, list, keep     = sample.TreeOf, sample.Replace, sample.Ops, sample.Keep
+	del, insert, descend, words = sample.Delete, sample.Insert, sample.Descend, sample.Words
+	kids, atom                  = sample.Kids, sample.Number
+)
 
 // exact tells whether two edits are the same, field by field, nil and empty lists being so.
 func exact(a, b api.Edit) bool {
@@ -78,23 +57,23 @@ func TestEdit(t *testing.T) {
 	one, two, three := atom(1), atom(2), atom(3)
 	for _, c := range []struct{ e, want api.Edit }{
 		{api.Edit{}, api.Edit{}},
-		{replace(t, "{1,0|_}", "p[{0},_]"), replace(t, "{1}", "p[{},_]")},
+		{replace("{1,0|_}", "p[{0},_]"), replace("{1}", "p[{},_]")},
 		{words(w), words(w)},
 		{st, st},
-		{kids(api.KidEdit{At: 1, E: replace(t, "{0}", "_")}, api.KidEdit{At: 4, E: st}), kids(api.KidEdit{At: 1, E: replace(t, "{}", "_")}, api.KidEdit{At: 4, E: st})},
+		{kids(api.KidEdit{At: 1, E: replace("{0}", "_")}, api.KidEdit{At: 4, E: st}), kids(api.KidEdit{At: 1, E: replace("{}", "_")}, api.KidEdit{At: 4, E: st})},
 		{kids(api.KidEdit{At: 1, E: list(api.Byte, keep(1), keep(1))}), kids(api.KidEdit{At: 1, E: list(api.Byte, keep(2))})},
 		{list(api.Byte), list(api.Byte)},
 		{list(api.Byte, insert(one), del(one, two), keep(1), keep(2)), list(api.Byte, del(one, two), insert(one), keep(3))},
 		{list(api.Byte, insert(one), insert(two), del(one), insert(three), del(two)), list(api.Byte, del(one, two), insert(one, two, three))},
 		{list(api.Byte, keep(1), insert(one), keep(1), del(two), keep(1)), list(api.Byte, keep(1), insert(one), keep(1), del(two), keep(1))},
 		{list(api.Byte, keep(1), insert(one), del(two), keep(1), insert(three)), list(api.Byte, keep(1), del(two), insert(one), keep(1), insert(three))},
-		{list(api.Pointers, del(tr(t, "{1,0}")), del(api.Tree{}), insert(tr(t, "{0}"))), list(api.Pointers, del(tr(t, "{1}"), api.Tree{}), insert(tr(t, "{}")))},
+		{list(api.Pointers, del(tr("{1,0}")), del(api.Tree{}), insert(tr("{0}"))), list(api.Pointers, del(tr("{1}"), api.Tree{}), insert(tr("{}")))},
 		{list(api.Pointers, keep(1), descend(st), keep(1)), list(api.Pointers, keep(1), descend(st), keep(1))},
 		{list(api.Composite, keep(1), descend(st), keep(1)), list(api.Composite, keep(3))},
 		{list(api.Composite, descend(st), descend(words(w)), descend(st)), list(api.Composite, keep(1), descend(words(w)), keep(1))},
-		{list(api.Composite, insert(tr(t, "{1}")), descend(st), insert(tr(t, "{2}"))), list(api.Composite, insert(tr(t, "{1}")), keep(1), insert(tr(t, "{2}")))},
-		{list(api.Composite, insert(tr(t, "{1}")), descend(words(w)), del(tr(t, "{2}"))), list(api.Composite, insert(tr(t, "{1}")), descend(words(w)), del(tr(t, "{2}")))},
-		{list(api.Composite, descend(replace(t, "{1,0}", "{1}"))), list(api.Composite, descend(replace(t, "{1}", "{1}")))},
+		{list(api.Composite, insert(tr("{1}")), descend(st), insert(tr("{2}"))), list(api.Composite, insert(tr("{1}")), keep(1), insert(tr("{2}")))},
+		{list(api.Composite, insert(tr("{1}")), descend(words(w)), del(tr("{2}"))), list(api.Composite, insert(tr("{1}")), descend(words(w)), del(tr("{2}")))},
+		{list(api.Composite, descend(replace("{1,0}", "{1}"))), list(api.Composite, descend(replace("{1}", "{1}")))},
 		{list(api.Pointers, descend(list(api.Pointers, keep(1), keep(1)))), list(api.Pointers, descend(list(api.Pointers, keep(2))))},
 		{list(api.Pointers, descend(kids(api.KidEdit{At: 0, E: list(api.Composite, descend(st))}))), list(api.Pointers, descend(kids(api.KidEdit{At: 0, E: list(api.Composite, keep(1))})))},
 	} {
@@ -117,7 +96,7 @@ func TestIdle(t *testing.T) {
 		{api.Pointers, api.Edit{}, true}, {api.Composite, api.Edit{}, true}, {api.Byte, api.Edit{}, true},
 		{api.Composite, words(), true}, {api.Pointers, words(), false},
 		{api.Composite, words(api.WordEdit{Mask: 1}), false}, {api.Composite, kids(api.KidEdit{E: words()}), false},
-		{api.Composite, replace(t, "{}", "{}"), false}, {api.Pointers, replace(t, "_", "_"), false}, {api.Composite, list(api.Byte), false}, {api.Pointers, list(api.Byte), false},
+		{api.Composite, replace("{}", "{}"), false}, {api.Pointers, replace("_", "_"), false}, {api.Composite, list(api.Byte), false}, {api.Pointers, list(api.Byte), false},
 	} {
 		if normal.Idle(c.list, c.e) != c.want {
 			t.Errorf("Idle(%d, %+v): %v", c.list, c.e, !c.want)

@@ -16,36 +16,15 @@ import (
 	"cento/tree"
 )
 
-func tr(t *testing.T, s string) api.Tree {
-	t.Helper()
-	x, err := text.Parse(s)
-	if err != api.OK {
-		t.Fatalf("%s is no tree's text", s)
-	}
-	return x
-}
-
-func replace(t *testing.T, old, now string) api.Edit {
-	t.Helper()
-	return api.Edit{Kind: api.Replace, Old: tr(t, old), New: tr(t, now)}
-}
-
-func list(kind int, ops ...api.Op) api.Edit {
-	return api.Edit{Kind: api.ListEdit, List: kind, Ops: ops}
-}
-
-func keep(n int) api.Op           { return api.Op{Kind: api.Keep, N: n} }
-func del(l ...api.Tree) api.Op    { return api.Op{Kind: api.Delete, L: l} }
-func insert(l ...api.Tree) api.Op { return api.Op{Kind: api.Insert, L: l} }
-func descend(e api.Edit) api.Op   { return api.Op{Kind: api.Descend, E: e} }
-
-func words(l ...api.WordEdit) api.Edit { return api.Edit{Kind: api.StructEdit, Words: l} }
-func kids(l ...api.KidEdit) api.Edit   { return api.Edit{Kind: api.StructEdit, Kids: l} }
-
-func atom(n uint64) api.Tree { return api.Tree{Kind: api.Atom, Words: []uint64{n}} }
+// Short forms of what the tests are written with.
+var (
+	tr, replace, list, keep     = sample.TreeOf, sample.Replace, sample.Ops, sample.Keep
+	del, insert, descend, words = sample.Delete, sample.Insert, sample.Descend, sample.Words
+	kids, atom                  = sample.Kids, sample.Number
+)
 
 // some are edits and what their trees mean.
-func some(t *testing.T) []struct {
+func some() []struct {
 	e    api.Edit
 	tree string
 } {
@@ -55,27 +34,27 @@ func some(t *testing.T) []struct {
 		tree string
 	}{
 		{api.Edit{}, "_"},
-		{replace(t, "_", "_"), "{1}"},
-		{replace(t, "{5,0}", "y[7]"), "{1|{5},y[7]}"},
-		{replace(t, "_", "{5}"), "{1|_,{5}}"},
-		{replace(t, "{5}", "_"), "{1|{5}}"},
+		{replace("_", "_"), "{1}"},
+		{replace("{5,0}", "y[7]"), "{1|{5},y[7]}"},
+		{replace("_", "{5}"), "{1|_,{5}}"},
+		{replace("{5}", "_"), "{1|{5}}"},
 		{words(), "{2}"},
 		{words(w), "{2|c[{8100000003,5,8000000000000000}]}"},
 		{words(w, api.WordEdit{At: 65534, Mask: 1, Old: 2}), "{2|c[{8100000003,5,8000000000000000},{10000fffe,2}]}"},
-		{kids(api.KidEdit{At: 0, E: words()}, api.KidEdit{At: 9, E: replace(t, "_", "_")}), "{2|_,c[{|{2}},{9|{1}}]}"},
+		{kids(api.KidEdit{At: 0, E: words()}, api.KidEdit{At: 9, E: replace("_", "_")}), "{2|_,c[{|{2}},{9|{1}}]}"},
 		{api.Edit{Kind: api.StructEdit, Words: []api.WordEdit{w}, Kids: []api.KidEdit{{At: 9, E: words()}}}, "{2|c[{8100000003,5,8000000000000000}],c[{9|{2}}]}"},
 		{list(api.Byte), "{403}"},
 		{list(api.Void, keep(1<<20-2), insert(atom(0))), "{203|c[{ffffe00},{2|v[0]}]}"},
 		{list(api.Byte, keep(2), del(atom(5)), insert(atom(6), atom(7))), "{403|c[{200},{1|y[5]},{2|y[6,7]}]}"},
-		{list(api.Pointers, del(api.Tree{}), insert(tr(t, "{1}"), api.Tree{})), "{803|c[{1|p[_]},{2|p[{1},_]}]}"},
-		{list(api.Composite, descend(words(w)), keep(1), insert(tr(t, "{1}"))), "{903|c[{3|{2|c[{8100000003,5,8000000000000000}]}},{100},{2|c[{1}]}]}"},
+		{list(api.Pointers, del(api.Tree{}), insert(tr("{1}"), api.Tree{})), "{803|c[{1|p[_]},{2|p[{1},_]}]}"},
+		{list(api.Composite, descend(words(w)), keep(1), insert(tr("{1}"))), "{903|c[{3|{2|c[{8100000003,5,8000000000000000}]}},{100},{2|c[{1}]}]}"},
 	}
 }
 
 // 27.1
 func TestTreeAndRead(t *testing.T) {
-	for _, c := range some(t) {
-		want := tr(t, c.tree)
+	for _, c := range some() {
+		want := tr(c.tree)
 		if got := patch.Tree(c.e); !tree.Right(got) || !tree.Equal(got, want) {
 			t.Errorf("%+v has the tree %s, not %s", c.e, text.Print(got), c.tree)
 		}
@@ -106,11 +85,11 @@ func TestReadTellsTreesAsTheyStand(t *testing.T) {
 		s    string
 		want api.Edit
 	}{
-		{"{1,0|{5,0|_},p[{0}],_}", replace(t, "{5,0|_}", "p[{0}]")},
-		{"{803,0|c[{1,0|p[{5,0}]},{2|p[{|_},_],_}]}", list(api.Pointers, del(tr(t, "{5,0}")), insert(tr(t, "{|_}"), api.Tree{}))},
-		{"{2|_,c[{0,0|{1|{0}}}]}", kids(api.KidEdit{E: replace(t, "{0}", "_")})},
+		{"{1,0|{5,0|_},p[{0}],_}", replace("{5,0|_}", "p[{0}]")},
+		{"{803,0|c[{1,0|p[{5,0}]},{2|p[{|_},_],_}]}", list(api.Pointers, del(tr("{5,0}")), insert(tr("{|_}"), api.Tree{}))},
+		{"{2|_,c[{0,0|{1|{0}}}]}", kids(api.KidEdit{E: replace("{0}", "_")})},
 	} {
-		if e, ok := patch.Read(tr(t, c.s)); !ok || shown(e) != shown(c.want) {
+		if e, ok := patch.Read(tr(c.s)); !ok || shown(e) != shown(c.want) {
 			t.Errorf("%s is read as %s, %v, not %s", c.s, shown(e), ok, shown(c.want))
 		}
 	}
@@ -130,7 +109,7 @@ func TestReadRefuses(t *testing.T) {
 		"{403|c[{1}]}", "{403|c[{1|y[]}]}", "{403|c[{1|t[5]}]}", "{403|c[{101|y[5]}]}", "{403|c[{1|y[5],{}}]}", "{403|c[{1,1|y[5]}]}", "{403|c[{2}]}", "{403|c[{2|p[_]}]}", "{403|c[{3|{2}}]}",
 		"{803|c[{3}]}", "{803|c[{103|{2}}]}", "{803|c[{3|{2},{}}]}", "{903|c[{3|{1}}]}", "{903|c[{3|{403}}]}", "{903|c[{3}]}", "{803|c[{1|c[{}]}]}",
 	} {
-		if e, ok := patch.Read(tr(t, s)); ok || !edit.Equal(e, api.Edit{}) {
+		if e, ok := patch.Read(tr(s)); ok || !edit.Equal(e, api.Edit{}) {
 			t.Errorf("%s is read as %+v", s, e)
 		}
 	}
@@ -138,10 +117,10 @@ func TestReadRefuses(t *testing.T) {
 
 // 27.2, 27.3
 func TestEncodeAndDecode(t *testing.T) {
-	for _, c := range some(t) {
-		n := 1 + tree.Size(tr(t, c.tree))
+	for _, c := range some() {
+		n := 1 + tree.Size(tr(c.tree))
 		l, ok := patch.Encode(c.e, n)
-		want, _ := canon.Encode(tr(t, c.tree), n)
+		want, _ := canon.Encode(tr(c.tree), n)
 		if !ok || !slices.Equal(l, want) {
 			t.Errorf("%+v: %x, %v, not %x", c.e, l, ok, want)
 		}

@@ -12,20 +12,14 @@ import (
 	"cento/tree"
 )
 
+// Short forms of what the tests are written with.
+var tr = sample.TreeOf
+
 type steps = []api.Step
 
 func kid(at int) api.Step { return api.Step{Kind: api.Kid, At: at} }
 func wrd(at int) api.Step { return api.Step{Kind: api.Word, At: at} }
 func gap(at int) api.Step { return api.Step{Kind: api.Gap, At: at} }
-
-func tr(t *testing.T, s string) api.Tree {
-	t.Helper()
-	x, err := text.Parse(s)
-	if err != api.OK {
-		t.Fatalf("%s is no tree's text", s)
-	}
-	return x
-}
 
 // 31.1
 func TestGet(t *testing.T) {
@@ -40,7 +34,7 @@ func TestGet(t *testing.T) {
 		{"{0,7}", steps{wrd(0)}, "{}"}, {"{0,7}", steps{wrd(1)}, "{7}"}, {"{|{1,0|_}}", steps{kid(0)}, "{1}"},
 		{"p[_,{|c[{1,2},{3}]}]", steps{kid(1), kid(0), kid(1), wrd(0)}, "{3}"}, {"p[_,{|c[{1,2},{3}]}]", steps{kid(1), kid(0), gap(1)}, "c[]"}, {"p[_,{1}]", steps{kid(0)}, "_"}, {"p[]", steps{gap(0)}, "p[]"},
 	} {
-		got, ok := path.Get(tr(t, c.t), c.l)
+		got, ok := path.Get(tr(c.t), c.l)
 		if !ok || text.Print(got) != c.want {
 			t.Errorf("%s, %v: %s, %v, not %s", c.t, c.l, text.Print(got), ok, c.want)
 		}
@@ -56,7 +50,7 @@ func TestGet(t *testing.T) {
 		{"{1|y[5,6]}", steps{kid(1), kid(0)}}, {"{1|y[5,6]}", steps{kid(0), kid(0), kid(0)}}, {"{1|y[5,6]}", steps{kid(0), kid(0), wrd(0)}}, {"{1|y[5,6]}", steps{kid(0), kid(0), gap(0)}},
 		{"{1}", steps{wrd(0), wrd(0)}}, {"{1}", steps{wrd(0), kid(0)}}, {"y[1]", steps{gap(0), gap(0)}}, {"p[]", steps{kid(0)}}, {"p[_]", steps{gap(2)}},
 	} {
-		if got, ok := path.Get(tr(t, c.t), c.l); ok || got.Kind != 0 || len(got.Words)+len(got.Kids) > 0 {
+		if got, ok := path.Get(tr(c.t), c.l); ok || got.Kind != 0 || len(got.Words)+len(got.Kids) > 0 {
 			t.Errorf("%s, %v: %s, %v", c.t, c.l, text.Print(got), ok)
 		}
 	}
@@ -97,12 +91,12 @@ func TestTreeAndRead(t *testing.T) {
 		if got := path.Tree(c.l); text.Print(got) != c.want || !tree.Right(got) {
 			t.Errorf("Tree of %v: %s", c.l, text.Print(got))
 		}
-		if l, ok := path.Read(tr(t, c.want)); !ok || !slices.Equal(l, c.l) {
+		if l, ok := path.Read(tr(c.want)); !ok || !slices.Equal(l, c.l) {
 			t.Errorf("%s is read as %v, %v", c.want, l, ok)
 		}
 	}
 	for _, s := range []string{"_", "{}", "y[0]", "f[0]", "p[]", "e[3]", "e[0,7]", "e[400004]", "e[400005]", "e[400006]", "e[ffffffffffffffff]", "e[8000000000000000]", "e[fffffffffffffffc]"} {
-		if l, ok := path.Read(tr(t, s)); ok || len(l) != 0 {
+		if l, ok := path.Read(tr(s)); ok || len(l) != 0 {
 			t.Errorf("%s is read as %v", s, l)
 		}
 	}

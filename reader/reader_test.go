@@ -8,24 +8,11 @@ import (
 	"cento/arena"
 	"cento/ptr"
 	"cento/reader"
+	"cento/sample"
 )
 
-func w(t *testing.T, p ptr.Ptr) uint64 {
-	t.Helper()
-	x, ok := ptr.Encode(p)
-	if !ok {
-		t.Fatalf("no word of %+v", p)
-	}
-	return x
-}
-
-func structOf(off, data, ptrs int) ptr.Ptr {
-	return ptr.Ptr{Kind: ptr.Struct, Off: off, Data: data, Ptrs: ptrs}
-}
-
-func listOf(off, code, count int) ptr.Ptr {
-	return ptr.Ptr{Kind: ptr.List, Off: off, Code: code, Count: count}
-}
+// Short forms of what the tests are written with.
+var w, structOf, listOf = sample.Pointer, sample.ToStruct, sample.ToList
 
 func root(t *testing.T, segments ...[]uint64) reader.Ref {
 	t.Helper()
@@ -56,7 +43,7 @@ func kid(t *testing.T, r reader.Ref, i int) reader.Ref {
 
 // 9.1, 9.2
 func TestStruct(t *testing.T) {
-	r := root(t, []uint64{w(t, structOf(0, 2, 2)), 7, 8, 0, w(t, listOf(0, 2, 3)), 0x030201})
+	r := root(t, []uint64{w(structOf(0, 2, 2)), 7, 8, 0, w(listOf(0, 2, 3)), 0x030201})
 	shape(t, r, api.Struct, 2, 2, 0, 0)
 	for i, want := range map[int]uint64{0: 7, 1: 8, 2: 0, -1: 0, math.MaxInt: 0, math.MinInt: 0} {
 		if n := r.Word(i); n != want {
@@ -96,7 +83,7 @@ func TestListsOfData(t *testing.T) {
 		{4, 4, map[int]uint64{0: 0x44332211, 1: 0x88776655, 3: 0xffeeddcc}},
 		{5, 2, map[int]uint64{0: data[0], 1: data[1]}},
 	} {
-		r := root(t, []uint64{w(t, listOf(0, c.code, c.count)), data[0], data[1]})
+		r := root(t, []uint64{w(listOf(0, c.code, c.count)), data[0], data[1]})
 		shape(t, r, c.code+2, 0, c.count, 0, 0)
 		for i, want := range c.want {
 			k := kid(t, r, i)
@@ -112,14 +99,14 @@ func TestListsOfData(t *testing.T) {
 			t.Errorf("a list has a word")
 		}
 	}
-	r := root(t, []uint64{w(t, listOf(0, 0, 1<<29-1))})
+	r := root(t, []uint64{w(listOf(0, 0, 1<<29-1))})
 	shape(t, r, api.Void, 0, 1<<29-1, 0, 0)
 	shape(t, kid(t, r, 1<<29-2), api.Atom, 1, 0, 0, 0)
 }
 
 // 9.1, 9.2
 func TestPointers(t *testing.T) {
-	r := root(t, []uint64{w(t, listOf(0, 6, 3)), w(t, structOf(2, 1, 0)), 0, 3, 9})
+	r := root(t, []uint64{w(listOf(0, 6, 3)), w(structOf(2, 1, 0)), 0, 3, 9})
 	shape(t, r, api.Pointers, 0, 3, 0, 0)
 	if k := kid(t, r, 0); k.Word(0) != 9 {
 		t.Errorf("the first kid: %d", k.Word(0))
@@ -132,7 +119,7 @@ func TestPointers(t *testing.T) {
 
 // 9.1, 9.2
 func TestComposite(t *testing.T) {
-	r := root(t, []uint64{w(t, listOf(0, 7, 5)), w(t, structOf(2, 1, 1)), 7, w(t, structOf(-1, 0, 0)), 8, 0, 99})
+	r := root(t, []uint64{w(listOf(0, 7, 5)), w(structOf(2, 1, 1)), 7, w(structOf(-1, 0, 0)), 8, 0, 99})
 	shape(t, r, api.Composite, 0, 2, 1, 1)
 	for i, want := range []uint64{7, 8} {
 		k := kid(t, r, i)
@@ -144,24 +131,24 @@ func TestComposite(t *testing.T) {
 	shape(t, kid(t, kid(t, r, 0), 0), api.Struct, 0, 0, 0, 0)
 	shape(t, kid(t, kid(t, r, 1), 0), api.Null, 0, 0, 0, 0)
 	shape(t, kid(t, r, 2), api.Null, 0, 0, 0, 0)
-	shape(t, root(t, []uint64{w(t, listOf(0, 7, 0)), 0}), api.Composite, 0, 0, 0, 0)
-	shape(t, root(t, []uint64{w(t, listOf(0, 7, 1)), w(t, structOf(0, 3, 4)), 5}), api.Composite, 0, 0, 3, 4)
-	shape(t, root(t, []uint64{w(t, listOf(0, 7, 0)), w(t, structOf(1<<29-1, 0, 0))}), api.Composite, 0, 1<<29-1, 0, 0)
+	shape(t, root(t, []uint64{w(listOf(0, 7, 0)), 0}), api.Composite, 0, 0, 0, 0)
+	shape(t, root(t, []uint64{w(listOf(0, 7, 1)), w(structOf(0, 3, 4)), 5}), api.Composite, 0, 0, 3, 4)
+	shape(t, root(t, []uint64{w(listOf(0, 7, 0)), w(structOf(1<<29-1, 0, 0))}), api.Composite, 0, 1<<29-1, 0, 0)
 }
 
 // 9.1
 func TestTagsThatMayNotBe(t *testing.T) {
 	for name, tag := range map[string]uint64{
-		"a list":            w(t, listOf(0, 2, 0)),
-		"a far one":         w(t, ptr.Ptr{Kind: ptr.Far}),
+		"a list":            w(listOf(0, 2, 0)),
+		"a far one":         w(ptr.Ptr{Kind: ptr.Far}),
 		"something else":    3,
-		"below 0":           w(t, structOf(-1, 0, 0)),
-		"below 0, of words": w(t, structOf(-1, 1, 0)),
-		"one word too many": w(t, structOf(1, 2, 1)),
-		"too many":          w(t, structOf(3, 1, 0)),
-		"far too many":      w(t, structOf(1<<29-1, 65535, 65535)),
+		"below 0":           w(structOf(-1, 0, 0)),
+		"below 0, of words": w(structOf(-1, 1, 0)),
+		"one word too many": w(structOf(1, 2, 1)),
+		"too many":          w(structOf(3, 1, 0)),
+		"far too many":      w(structOf(1<<29-1, 65535, 65535)),
 	} {
-		if r, err := reader.Root(arena.Of([][]uint64{{w(t, listOf(0, 7, 2)), tag, 0, 0}})); r.Kind() != api.Null || err != api.ErrPtr {
+		if r, err := reader.Root(arena.Of([][]uint64{{w(listOf(0, 7, 2)), tag, 0, 0}})); r.Kind() != api.Null || err != api.ErrPtr {
 			t.Errorf("%s: %v, %d", name, r, err)
 		}
 	}
@@ -172,7 +159,7 @@ func TestErrorsAndFarOnes(t *testing.T) {
 	if r, err := reader.Root(nil); r.Kind() != api.Null || err != api.ErrBounds {
 		t.Errorf("a nil arena: %v, %d", r, err)
 	}
-	a := arena.Of([][]uint64{{w(t, structOf(0, 1, 0))}, {5, w(t, ptr.Ptr{Kind: ptr.Far, Segment: 2}), 0}, {w(t, structOf(0, 1, 0)), 6}})
+	a := arena.Of([][]uint64{{w(structOf(0, 1, 0))}, {5, w(ptr.Ptr{Kind: ptr.Far, Segment: 2}), 0}, {w(structOf(0, 1, 0)), 6}})
 	if r, err := reader.Root(a); r.Kind() != api.Null || err != api.ErrBounds {
 		t.Errorf("behind the end: %v, %d", r, err)
 	}

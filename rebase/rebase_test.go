@@ -13,40 +13,14 @@ import (
 	"cento/text"
 )
 
-func tr(t *testing.T, s string) api.Tree {
-	t.Helper()
-	x, err := text.Parse(s)
-	if err != api.OK {
-		t.Fatalf("%s is no tree's text", s)
-	}
-	return x
-}
-
-func replace(t *testing.T, old, now string) api.Edit {
-	t.Helper()
-	return api.Edit{Kind: api.Replace, Old: tr(t, old), New: tr(t, now)}
-}
-
-func list(kind int, ops ...api.Op) api.Edit {
-	return api.Edit{Kind: api.ListEdit, List: kind, Ops: ops}
-}
-
-func keep(n int) api.Op           { return api.Op{Kind: api.Keep, N: n} }
-func del(l ...api.Tree) api.Op    { return api.Op{Kind: api.Delete, L: l} }
-func insert(l ...api.Tree) api.Op { return api.Op{Kind: api.Insert, L: l} }
-func descend(e api.Edit) api.Op   { return api.Op{Kind: api.Descend, E: e} }
-
-func words(l ...api.WordEdit) api.Edit { return api.Edit{Kind: api.StructEdit, Words: l} }
-func kids(l ...api.KidEdit) api.Edit   { return api.Edit{Kind: api.StructEdit, Kids: l} }
-
-// word tells an edit of the lowest byte of the word 0.
-func word(old, now uint64) api.Edit {
-	return words(api.WordEdit{Mask: 1, Old: old, New: now})
-}
+// Short forms of what the tests are written with.
+var (
+	tr, replace, list, keep     = sample.TreeOf, sample.Replace, sample.Ops, sample.Keep
+	del, insert, descend, words = sample.Delete, sample.Insert, sample.Descend, sample.Words
+	kids, word, atom            = sample.Kids, sample.Byte, sample.Number
+)
 
 func at(i int, e api.Edit) api.KidEdit { return api.KidEdit{At: i, E: e} }
-
-func atom(n uint64) api.Tree { return api.Tree{Kind: api.Atom, Words: []uint64{n}} }
 
 // 30.1
 func TestEdits(t *testing.T) {
@@ -62,14 +36,14 @@ func TestEdits(t *testing.T) {
 		{name: "Same and another one, as it is written", q: list(api.Byte, insert(one), del(two)), wantQ: list(api.Byte, del(two), insert(one))},
 		{name: "one and itself", p: word(1, 2), q: word(1, 2)},
 
-		{name: "Replace by the same", p: replace(t, "{1}", "{2}"), q: replace(t, "{1,0}", "{2|_}")},
-		{name: "Replace by something else", p: replace(t, "{1}", "{2}"), q: replace(t, "{1}", "{3}"), want: api.ErrMismatch},
-		{name: "Replace of something else", p: replace(t, "{1}", "{2}"), q: replace(t, "{3}", "{2}"), want: api.ErrIncompatible},
-		{name: "Replace, and what does the same", p: replace(t, "{1}", "{2}"), q: word(1, 2)},
-		{name: "Replace, and what does something else", p: replace(t, "{1}", "_"), q: word(1, 2), want: api.ErrMismatch},
-		{name: "Replace, and what is not defined", p: replace(t, "{1}", "_"), q: word(2, 3), want: api.ErrIncompatible},
-		{name: "Replace, and a StructEdit of nothing", p: replace(t, "{1}", "{1}"), q: words()},
-		{name: "Replace, and a StructEdit of nothing, on a list", p: replace(t, "c[]", "c[]"), q: words(), want: api.ErrIncompatible},
+		{name: "Replace by the same", p: replace("{1}", "{2}"), q: replace("{1,0}", "{2|_}")},
+		{name: "Replace by something else", p: replace("{1}", "{2}"), q: replace("{1}", "{3}"), want: api.ErrMismatch},
+		{name: "Replace of something else", p: replace("{1}", "{2}"), q: replace("{3}", "{2}"), want: api.ErrIncompatible},
+		{name: "Replace, and what does the same", p: replace("{1}", "{2}"), q: word(1, 2)},
+		{name: "Replace, and what does something else", p: replace("{1}", "_"), q: word(1, 2), want: api.ErrMismatch},
+		{name: "Replace, and what is not defined", p: replace("{1}", "_"), q: word(2, 3), want: api.ErrIncompatible},
+		{name: "Replace, and a StructEdit of nothing", p: replace("{1}", "{1}"), q: words()},
+		{name: "Replace, and a StructEdit of nothing, on a list", p: replace("c[]", "c[]"), q: words(), want: api.ErrIncompatible},
 
 		{name: "a StructEdit and a ListEdit", p: words(), q: list(api.Composite), want: api.ErrIncompatible},
 		{name: "two lists", p: list(api.Byte), q: list(api.Two), want: api.ErrIncompatible},
@@ -83,7 +57,7 @@ func TestEdits(t *testing.T) {
 		{name: "a StructEdit of nothing", p: words(), q: word(1, 2), wantQ: word(1, 2)},
 		{name: "kids apart from each other", p: kids(at(0, word(1, 2)), at(3, words())), q: kids(at(1, word(1, 2))), wantP: kids(at(0, word(1, 2)), at(3, words())), wantQ: kids(at(1, word(1, 2)))},
 		{name: "a kid of both", p: kids(at(0, word(1, 2)), at(1, word(1, 2))), q: kids(at(0, high), at(1, word(1, 2))), wantP: kids(at(0, word(1, 2))), wantQ: kids(at(0, high))},
-		{name: "a kid of both that clash", p: kids(at(0, word(1, 2))), q: kids(at(0, replace(t, "{1}", "_"))), want: api.ErrMismatch},
+		{name: "a kid of both that clash", p: kids(at(0, word(1, 2))), q: kids(at(0, replace("{1}", "_"))), want: api.ErrMismatch},
 		{name: "a clash within, and apart elsewhere", p: kids(at(0, word(1, 2)), at(1, words())), q: kids(at(0, word(1, 3)), at(1, list(api.Byte))), want: api.ErrIncompatible},
 
 		{name: "Inserts at two places", p: list(api.Byte, insert(one), keep(1)), q: list(api.Byte, keep(1), insert(two)), wantP: list(api.Byte, insert(one), keep(2)), wantQ: list(api.Byte, keep(2), insert(two))},
@@ -97,10 +71,10 @@ func TestEdits(t *testing.T) {
 		{name: "Delete and Delete", p: list(api.Byte, del(one, two), keep(1)), q: list(api.Byte, keep(1), del(two, three)), wantP: list(api.Byte, del(one)), wantQ: list(api.Byte, del(three))},
 		{name: "Delete of something else", p: list(api.Byte, del(one)), q: list(api.Byte, del(two)), want: api.ErrIncompatible},
 		{name: "too many kids", p: list(api.Byte, keep(1)), q: list(api.Byte, keep(2)), want: api.ErrIncompatible},
-		{name: "Descend and Keep", p: list(api.Composite, descend(word(1, 2)), keep(1)), q: list(api.Composite, keep(2), insert(tr(t, "{}"))), wantP: list(api.Composite, descend(word(1, 2)), keep(2)), wantQ: list(api.Composite, keep(2), insert(tr(t, "{}")))},
-		{name: "Descend and Delete", p: list(api.Composite, descend(word(1, 2))), q: list(api.Composite, del(tr(t, "{1,5}"))), want: api.ErrMismatch},
-		{name: "Descend and Delete, apart", p: list(api.Composite, descend(word(1, 2))), q: list(api.Composite, del(tr(t, "{2}"))), want: api.ErrIncompatible},
-		{name: "Delete and Descend", p: list(api.Composite, del(tr(t, "{1,5}"))), q: list(api.Composite, descend(word(1, 2))), want: api.ErrMismatch},
+		{name: "Descend and Keep", p: list(api.Composite, descend(word(1, 2)), keep(1)), q: list(api.Composite, keep(2), insert(tr("{}"))), wantP: list(api.Composite, descend(word(1, 2)), keep(2)), wantQ: list(api.Composite, keep(2), insert(tr("{}")))},
+		{name: "Descend and Delete", p: list(api.Composite, descend(word(1, 2))), q: list(api.Composite, del(tr("{1,5}"))), want: api.ErrMismatch},
+		{name: "Descend and Delete, apart", p: list(api.Composite, descend(word(1, 2))), q: list(api.Composite, del(tr("{2}"))), want: api.ErrIncompatible},
+		{name: "Delete and Descend", p: list(api.Composite, del(tr("{1,5}"))), q: list(api.Composite, descend(word(1, 2))), want: api.ErrMismatch},
 		{name: "Descend and Descend", p: list(api.Composite, descend(word(1, 2)), descend(word(1, 2))), q: list(api.Composite, descend(high), descend(word(1, 2))), wantP: list(api.Composite, descend(word(1, 2)), keep(1)), wantQ: list(api.Composite, descend(high), keep(1))},
 		{name: "Descends that clash", p: list(api.Pointers, descend(word(1, 2))), q: list(api.Pointers, descend(word(1, 3))), want: api.ErrMismatch},
 		{name: "Keep of all", p: list(api.Byte, keep(2)), q: list(api.Byte, keep(2))},

@@ -92,11 +92,7 @@ func (s step) text() api.Errno {
 	if err != api.OK {
 		return err
 	}
-	l, err := s.ofTree(t, s.limits)
-	if err != api.OK {
-		return err
-	}
-	return s.put(l)
+	return s.putTree(t)
 }
 
 func (s step) diff() api.Errno {
@@ -128,11 +124,7 @@ func (s step) apply() api.Errno {
 	if err != api.OK {
 		return err
 	}
-	l, err := s.ofTree(t, s.limits)
-	if err != api.OK {
-		return err
-	}
-	return s.put(l)
+	return s.putTree(t)
 }
 
 // rewrite puts what becomes of one patch.
@@ -267,7 +259,7 @@ func (s step) patches(i, j int) (api.Edit, api.Edit, api.Errno) {
 
 // ofTree tells the words of a tree that are within limits.
 func (s step) ofTree(t api.Tree, x api.Limits) ([]uint64, api.Errno) {
-	l, ok := canon.Encode(t, s.Now().MaxOut)
+	l, ok := canon.Encode(t, s.limits.MaxOut)
 	if !ok {
 		return nil, api.ErrLimit
 	}
@@ -282,11 +274,20 @@ func (s step) put(l ...[]uint64) api.Errno {
 	return s.slots.Put(s.args[:len(l)], l)
 }
 
+// putTree puts a tree into the first slot of the command.
+func (s step) putTree(t api.Tree) api.Errno {
+	l, err := s.ofTree(t, s.limits)
+	if err != api.OK {
+		return err
+	}
+	return s.put(l)
+}
+
 // putEdits puts edits into the first slots of the command, all or none.
 func (s step) putEdits(edits ...api.Edit) api.Errno {
 	var l [][]uint64
 	for _, e := range edits {
-		words, ok := patch.Encode(e, s.Now().MaxOut)
+		words, ok := patch.Encode(e, s.limits.MaxOut)
 		if !ok {
 			return api.ErrLimit
 		}

@@ -14,20 +14,13 @@ import (
 	"cento/text"
 )
 
-func ed(t *testing.T, s string) api.Edit {
-	t.Helper()
-	e, err := etext.Parse(s)
-	if err != api.OK {
-		t.Fatalf("%s is no edit's text", s)
-	}
-	return e
-}
+// Short forms of what the tests are written with.
+var ed = sample.EditOf
 
-func eds(t *testing.T, l []string) []api.Edit {
-	t.Helper()
+func eds(l []string) []api.Edit {
 	var out []api.Edit
 	for _, s := range l {
-		out = append(out, ed(t, s))
+		out = append(out, ed(s))
 	}
 	return out
 }
@@ -61,7 +54,7 @@ func TestParts(t *testing.T) {
 		{"lp[*s{|},*ly[k1],*ly[+y[1],k1,+y[2]]]", []string{"lp[*s{|},k2]", "lp[k1,*ly[k1],k1]", "lp[k2,*ly[+y[1],k1]]", "lp[k2,*ly[k2,+y[2]]]"}},
 		{"lc[*s{|2:lc[-c[{}],+c[{1}]]},*({}>{1})]", []string{"lc[*s{|2:lc[-c[{}]]},k1]", "lc[*s{|2:lc[+c[{1}]]},k1]", "lc[k1,*({}>{1})]"}},
 	} {
-		if got := texts(split.Parts(ed(t, c.e))); !slices.Equal(got, c.want) {
+		if got := texts(split.Parts(ed(c.e))); !slices.Equal(got, c.want) {
 			t.Errorf("%s: %v, not %v", c.e, got, c.want)
 		}
 	}
@@ -81,12 +74,12 @@ func TestJoin(t *testing.T) {
 		{[]string{"(_>{1})", "s{0:1:1:2|}", "({2}>{3,0})"}, "(_>{3})"},
 		{[]string{"lc[*s{|},k1]"}, "lc[k2]"},
 	} {
-		if got, ok := split.Join(eds(t, c.l)); !ok || etext.Print(got) != c.want {
+		if got, ok := split.Join(eds(c.l)); !ok || etext.Print(got) != c.want {
 			t.Errorf("%v: %s, %v, not %s", c.l, etext.Print(got), ok, c.want)
 		}
 	}
 	for _, l := range [][]string{{"s{0:1:1:2|}", "s{0:1:1:2|}"}, {"(_>{1})", "s{0:1:1:2|}", "s{0:1:1:2|}"}, {"s{|}", "ly[]", "="}, {"ly[k1]", "ly[k2]"}} {
-		if got, ok := split.Join(eds(t, l)); ok || !edit.Equal(got, api.Edit{}) {
+		if got, ok := split.Join(eds(l)); ok || !edit.Equal(got, api.Edit{}) {
 			t.Errorf("%v: %s", l, etext.Print(got))
 		}
 	}

@@ -6,13 +6,13 @@ import (
 	"testing"
 
 	"cento/api"
+	"cento/sample"
 	"cento/text"
 	"cento/tree"
 )
 
-func atom(n uint64) api.Tree {
-	return api.Tree{Kind: api.Atom, Words: []uint64{n}}
-}
+// Short forms of what the tests are written with.
+var atom = sample.Number
 
 func list(kind int, kids ...api.Tree) api.Tree {
 	return api.Tree{Kind: kind, Kids: kids}

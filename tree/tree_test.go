@@ -5,8 +5,12 @@ import (
 	"testing"
 
 	"cento/api"
+	"cento/sample"
 	"cento/tree"
 )
+
+// Short forms of what the tests are written with.
+var atom = sample.Number
 
 var null = api.Tree{}
 
@@ -18,10 +22,6 @@ func ws(words ...uint64) []uint64 { return words }
 
 func list(kind int, kids ...api.Tree) api.Tree {
 	return api.Tree{Kind: kind, Kids: kids}
-}
-
-func atom(n uint64) api.Tree {
-	return api.Tree{Kind: api.Atom, Words: []uint64{n}}
 }
 
 func atoms(kind int, numbers ...uint64) api.Tree {

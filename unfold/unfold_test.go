@@ -5,36 +5,14 @@ import (
 
 	"cento/api"
 	"cento/arena"
-	"cento/ptr"
 	"cento/reader"
+	"cento/sample"
 	"cento/text"
 	"cento/unfold"
 )
 
-func w(t *testing.T, p ptr.Ptr) uint64 {
-	t.Helper()
-	x, ok := ptr.Encode(p)
-	if !ok {
-		t.Fatalf("no word of %+v", p)
-	}
-	return x
-}
-
-func structOf(off, data, ptrs int) ptr.Ptr {
-	return ptr.Ptr{Kind: ptr.Struct, Off: off, Data: data, Ptrs: ptrs}
-}
-
-func listOf(off, code, count int) ptr.Ptr {
-	return ptr.Ptr{Kind: ptr.List, Off: off, Code: code, Count: count}
-}
-
-func farTo(segment, at int, double bool) ptr.Ptr {
-	return ptr.Ptr{Kind: ptr.Far, Segment: segment, Off: at, Double: double}
-}
-
-func nothing(t api.Tree) bool {
-	return t.Kind == api.Null && len(t.Words)+len(t.Kids) == 0
-}
+// Short forms of what the tests are written with.
+var w, structOf, listOf, farTo = sample.Pointer, sample.ToStruct, sample.ToList, sample.ToFar
 
 var most = api.Limits{Depth: api.MaxDepth, Weight: api.MaxWeight}
 
@@ -46,20 +24,20 @@ func TestValueAndMessage(t *testing.T) {
 		stands, normally string
 	}{
 		{l{{0}}, "_", "_"},
-		{l{{w(t, structOf(0, 1, 0)), 0}}, "{0}", "{}"},
-		{l{{w(t, structOf(0, 2, 2)), 7, 0, w(t, structOf(1, 1, 0)), 0, 0}}, "{7,0|{0},_}", "{7|{}}"},
-		{l{{w(t, structOf(-1, 0, 0))}}, "{}", "{}"},
-		{l{{w(t, listOf(0, 0, 2))}}, "v[0,0]", "v[0,0]"},
-		{l{{w(t, listOf(0, 1, 3)), 5}}, "b[1,0,1]", "b[1,0,1]"},
-		{l{{w(t, listOf(0, 2, 2)), 0x00ff}}, "y[ff,0]", "y[ff,0]"},
-		{l{{w(t, listOf(0, 3, 2)), 0xffff0001}}, "t[1,ffff]", "t[1,ffff]"},
-		{l{{w(t, listOf(0, 4, 3)), 0x200000001, 3}}, "f[1,2,3]", "f[1,2,3]"},
-		{l{{w(t, listOf(0, 5, 2)), 0x200000001, 3}}, "e[200000001,3]", "e[200000001,3]"},
-		{l{{w(t, listOf(0, 6, 3)), w(t, structOf(2, 1, 0)), 0, 0, 0}}, "p[{0},_,_]", "p[{},_,_]"},
-		{l{{w(t, listOf(0, 7, 4)), w(t, structOf(2, 1, 1)), 1, 0, 0, w(t, listOf(0, 2, 1)), 9}}, "c[{1|_},{0|y[9]}]", "c[{1},{|y[9]}]"},
-		{l{{w(t, listOf(0, 7, 0)), w(t, structOf(0, 1, 1))}}, "c[]", "c[]"},
-		{l{{w(t, farTo(1, 2, false))}, {7, 0, w(t, structOf(-3, 2, 0))}}, "{7,0}", "{7}"},
-		{l{{w(t, farTo(1, 0, true))}, {w(t, farTo(2, 1, false)), w(t, structOf(0, 1, 1))}, {9, 7, 0}}, "{7|_}", "{7}"},
+		{l{{w(structOf(0, 1, 0)), 0}}, "{0}", "{}"},
+		{l{{w(structOf(0, 2, 2)), 7, 0, w(structOf(1, 1, 0)), 0, 0}}, "{7,0|{0},_}", "{7|{}}"},
+		{l{{w(structOf(-1, 0, 0))}}, "{}", "{}"},
+		{l{{w(listOf(0, 0, 2))}}, "v[0,0]", "v[0,0]"},
+		{l{{w(listOf(0, 1, 3)), 5}}, "b[1,0,1]", "b[1,0,1]"},
+		{l{{w(listOf(0, 2, 2)), 0x00ff}}, "y[ff,0]", "y[ff,0]"},
+		{l{{w(listOf(0, 3, 2)), 0xffff0001}}, "t[1,ffff]", "t[1,ffff]"},
+		{l{{w(listOf(0, 4, 3)), 0x200000001, 3}}, "f[1,2,3]", "f[1,2,3]"},
+		{l{{w(listOf(0, 5, 2)), 0x200000001, 3}}, "e[200000001,3]", "e[200000001,3]"},
+		{l{{w(listOf(0, 6, 3)), w(structOf(2, 1, 0)), 0, 0, 0}}, "p[{0},_,_]", "p[{},_,_]"},
+		{l{{w(listOf(0, 7, 4)), w(structOf(2, 1, 1)), 1, 0, 0, w(listOf(0, 2, 1)), 9}}, "c[{1|_},{0|y[9]}]", "c[{1},{|y[9]}]"},
+		{l{{w(listOf(0, 7, 0)), w(structOf(0, 1, 1))}}, "c[]", "c[]"},
+		{l{{w(farTo(1, 2, false))}, {7, 0, w(structOf(-3, 2, 0))}}, "{7,0}", "{7}"},
+		{l{{w(farTo(1, 0, true))}, {w(farTo(2, 1, false)), w(structOf(0, 1, 1))}, {9, 7, 0}}, "{7|_}", "{7}"},
 	} {
 		a := arena.Of(c.segments)
 		r, err := reader.Root(a)
@@ -79,10 +57,10 @@ func TestValueAndMessage(t *testing.T) {
 
 // 11.1
 func TestValueOfParts(t *testing.T) {
-	if x, err := unfold.Value(reader.Ref{}); err != api.OK || !nothing(x) {
+	if x, err := unfold.Value(reader.Ref{}); err != api.OK || !sample.Nothing(x) {
 		t.Errorf("the zero Ref: %+v, %d", x, err)
 	}
-	r, err := reader.Root(arena.Of([][]uint64{{w(t, listOf(0, 2, 2)), 0x0705}}))
+	r, err := reader.Root(arena.Of([][]uint64{{w(listOf(0, 2, 2)), 0x0705}}))
 	if err != api.OK {
 		t.Fatal(err)
 	}
@@ -102,16 +80,16 @@ func TestMessageRefuses(t *testing.T) {
 	}{
 		{"no words", nil, most, api.ErrBounds},
 		{"something else", []uint64{3}, most, api.ErrCap},
-		{"a kid's tag", []uint64{w(t, structOf(0, 0, 1)), w(t, listOf(0, 7, 0)), 1}, most, api.ErrPtr},
-		{"too deep", []uint64{w(t, structOf(0, 0, 1)), w(t, structOf(-1, 0, 0))}, api.Limits{Depth: 1, Weight: 9}, api.ErrLimit},
-		{"what is trimmed weighs, too", []uint64{w(t, structOf(0, 2, 0)), 1, 0}, api.Limits{Depth: 1, Weight: 2}, api.ErrLimit},
-		{"a pointer to itself", []uint64{w(t, structOf(-1, 0, 1))}, most, api.ErrLimit},
+		{"a kid's tag", []uint64{w(structOf(0, 0, 1)), w(listOf(0, 7, 0)), 1}, most, api.ErrPtr},
+		{"too deep", []uint64{w(structOf(0, 0, 1)), w(structOf(-1, 0, 0))}, api.Limits{Depth: 1, Weight: 9}, api.ErrLimit},
+		{"what is trimmed weighs, too", []uint64{w(structOf(0, 2, 0)), 1, 0}, api.Limits{Depth: 1, Weight: 2}, api.ErrLimit},
+		{"a pointer to itself", []uint64{w(structOf(-1, 0, 1))}, most, api.ErrLimit},
 	} {
-		if x, err := unfold.Message(arena.Of([][]uint64{c.words}), c.l); err != c.want || !nothing(x) {
+		if x, err := unfold.Message(arena.Of([][]uint64{c.words}), c.l); err != c.want || !sample.Nothing(x) {
 			t.Errorf("%s: %+v, %d", c.name, x, err)
 		}
 	}
-	if x, err := unfold.Message(nil, most); err != api.ErrBounds || !nothing(x) {
+	if x, err := unfold.Message(nil, most); err != api.ErrBounds || !sample.Nothing(x) {
 		t.Errorf("a nil arena: %+v, %d", x, err)
 	}
 }
@@ -120,14 +98,14 @@ func TestMessageRefuses(t *testing.T) {
 func TestTheGreatest(t *testing.T) {
 	deep := make([]uint64, 65)
 	for i := range 64 {
-		deep[i] = w(t, structOf(0, 0, 1))
+		deep[i] = w(structOf(0, 0, 1))
 	}
 	for name, words := range map[string][]uint64{
 		"deep":          deep,
-		"nothings":      {w(t, listOf(0, 0, 65535))},
-		"pointers":      append([]uint64{w(t, listOf(0, 6, 65535))}, make([]uint64, 65535)...),
-		"structs":       {w(t, listOf(0, 7, 0)), w(t, structOf(65535, 0, 0))},
-		"structs' kids": append([]uint64{w(t, listOf(0, 7, 65534)), w(t, structOf(32767, 0, 1))}, make([]uint64, 65534)...),
+		"nothings":      {w(listOf(0, 0, 65535))},
+		"pointers":      append([]uint64{w(listOf(0, 6, 65535))}, make([]uint64, 65535)...),
+		"structs":       {w(listOf(0, 7, 0)), w(structOf(65535, 0, 0))},
+		"structs' kids": append([]uint64{w(listOf(0, 7, 65534)), w(structOf(32767, 0, 1))}, make([]uint64, 65534)...),
 	} {
 		a := arena.Of([][]uint64{words})
 		r, err := reader.Root(a)
