@@ -113,6 +113,20 @@ func TestGive(t *testing.T) {
 }
 
 // 5.2
+func TestAllThatIsLeftIsGiven(t *testing.T) {
+	a := arena.New(9, 5)
+	give(t, a, 2, 0, 0, true)
+	in(t, a, 0, 4, 0, false)
+	in(t, a, 0, 3, 2, true)
+	in(t, a, 0, 0, 5, true)
+	in(t, a, 0, 1, 0, false)
+	b := arena.New(9, 5)
+	give(t, b, 6, 0, 0, false)
+	give(t, b, 5, 0, 0, true)
+	give(t, b, 0, 0, 5, true)
+}
+
+// 5.2
 func TestAGreatGiveHasASegmentOfItsOwn(t *testing.T) {
 	a := arena.New(2, 100)
 	give(t, a, 7, 0, 0, true)

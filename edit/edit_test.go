@@ -16,6 +16,15 @@ var (
 	kids, atom                  = sample.Kids, sample.Number
 )
 
+// lists tells n edits of lists within one another.
+func lists(n int) api.Edit {
+	e := list(api.Pointers)
+	for range n - 1 {
+		e = list(api.Pointers, descend(e))
+	}
+	return e
+}
+
 // nested tells n edits within one another.
 func nested(n int) api.Edit {
 	e := api.Edit{Kind: api.StructEdit}
@@ -39,7 +48,7 @@ func rightOnes() []api.Edit {
 		list(api.Byte, insert(atom(1)), insert(atom(2)), del(atom(3)), keep(1), keep(1)), list(api.Byte, keep(api.MaxList-1)),
 		list(api.Pointers, del(null, tr("y[5]"), tr("{1,0|_}"))), list(api.Pointers, descend(replace("_", "{}")), descend(st), descend(list(api.Pointers))), list(api.Pointers, insert(sample.Nested(63))),
 		list(api.Composite, del(tr("{1,0}")), descend(st), descend(replace("{1}", "{}")), keep(7)),
-		nested(64), replace("_", "p[]"), {Kind: api.Replace, Old: sample.Nested(64), New: sample.Nested(64)},
+		nested(64), lists(64), replace("_", "p[]"), {Kind: api.Replace, Old: sample.Nested(64), New: sample.Nested(64)},
 	}
 }
 
@@ -132,6 +141,7 @@ func TestRight(t *testing.T) {
 		"too many behind":                 list(api.Byte, keep(api.MaxList-1), insert(atom(1))),
 		"65 within one another":           nested(65),
 		"1000 within one another":         nested(1000),
+		"65 of lists within one another":  lists(65),
 	} {
 		if edit.Right(e) {
 			t.Errorf("%s: it is taken", name)

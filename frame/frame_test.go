@@ -88,6 +88,16 @@ func TestRound(t *testing.T) {
 			}
 		}
 	}
+	for _, words := range []int{255, 256, 258, 0x1234} {
+		l := segments(2, words)
+		b, ok := frame.Frame(l)
+		if !ok || !slices.Equal(b[:12], head(1, uint32(words), uint32(words))) {
+			t.Errorf("two segments of %d words: %x, %v", words, b[:12], ok)
+		}
+		if got, err := frame.Unframe(b); err != api.OK || !equal(got, l) {
+			t.Errorf("two segments of %d words: %d", words, err)
+		}
+	}
 	big := segments(2, 65536)
 	b, ok := frame.Frame(big)
 	if !ok {
@@ -110,6 +120,9 @@ func TestUnframeRefuses(t *testing.T) {
 		{"three bytes", []byte{0, 0, 0}, api.ErrEnd},
 		{"17 segments", head(16), api.ErrLimit},
 		{"as many as can be told", head(0xffffffff, 0, 0, 0), api.ErrLimit},
+		{"2^24 segments, and one", head(1 << 24), api.ErrLimit},
+		{"257 segments", head(256), api.ErrLimit},
+		{"2^24 words", head(0, 1<<24), api.ErrLimit},
 		{"no numbers", head(0), api.ErrEnd},
 		{"a number is missing", head(2, 0, 0), api.ErrEnd},
 		{"the noughts are missing", head(1, 0, 0), api.ErrEnd},

@@ -40,6 +40,24 @@ func nested(n int, t api.Tree) api.Tree {
 	return t
 }
 
+// lists tells n lists of pointers within one another.
+func lists(n int) api.Tree {
+	t := list(api.Pointers)
+	for range n - 1 {
+		t = list(api.Pointers, t)
+	}
+	return t
+}
+
+// rows tells n lists of a struct within one another, which are twice as deep.
+func rows(n int) api.Tree {
+	t := null
+	for range n {
+		t = list(api.Composite, st(nil, t))
+	}
+	return t
+}
+
 // exact tells whether two trees are the same, field by field.
 func exact(a, b api.Tree) bool {
 	if a.Kind != b.Kind || len(a.Words) != len(b.Words) || len(a.Kids) != len(b.Kids) {
@@ -128,6 +146,10 @@ func TestRightAtTheLimits(t *testing.T) {
 		{"64 deep, structs of a list", nested(62, list(api.Composite, st(nil))), true},
 		{"65 deep, structs of a list", nested(63, list(api.Composite, st(nil))), false},
 		{"1000 deep", nested(1000, null), false},
+		{"64 lists", lists(64), true},
+		{"65 lists", lists(65), false},
+		{"63, lists of structs among them", st(nil, rows(31), st(nil)), true},
+		{"65, lists of structs among them", st(nil, rows(32), st(nil)), false},
 	} {
 		if tree.Right(c.x) != c.want {
 			t.Errorf("%s: %v", c.name, !c.want)
