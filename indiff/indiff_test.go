@@ -93,6 +93,18 @@ func TestKids(t *testing.T) {
 	}
 }
 
+// 28.1: as many kids as two messages may have in all.
+func TestManyKids(t *testing.T) {
+	wide := api.Tree{Kind: api.Struct, Words: []uint64{1}, Kids: make([]api.Tree, 60000)}
+	two := api.Tree{Kind: api.Struct, Words: []uint64{2}}
+	a := api.Tree{Kind: api.Struct, Kids: []api.Tree{wide, two}}
+	b := api.Tree{Kind: api.Struct, Kids: []api.Tree{two, wide}}
+	want := diff.Trees(a, b, 9)
+	if e, err := indiff.Values(sample.Value(a), sample.Value(b), 9); err != api.OK || !edit.Equal(e, want) {
+		t.Errorf("%+v, %d, not %+v", e, err, want)
+	}
+}
+
 // 28.1: long lists.
 func TestLongLists(t *testing.T) {
 	a := api.Tree{Kind: api.Four}
